@@ -1,0 +1,1 @@
+"""Forcedtables: what the number of its elements forces of a group."""

@@ -1,0 +1,129 @@
+"""Values for the tests, and plain ways to tell what they are."""
+
+from itertools import combinations
+
+from forcedtables.errors import InvalidPaper, NotUsable
+
+SIX = ((2, 1), (3, 1))
+FIFTEEN = ((3, 1), (5, 1))
+THIRTY = ((2, 1), (3, 1), (5, 1))
+FORTY = ((2, 3), (5, 1))
+FOUR = ("turn", 2, ((0, 1), (1, 1)), 3)
+
+PRIMES = [n for n in range(2, 10000) if all(n % k for k in range(2, int(n ** 0.5) + 1))]
+PRIME_TABLE = dict.fromkeys(PRIMES, True)
+EVERY_PRIME = tuple((prime, 6) for prime in PRIMES)
+SIXTY_DIGITS = 10 ** 59 + 7
+
+
+def nested(kind, deep):
+    """A value of this kind within itself, so many deep."""
+    thing = kind()
+    for _ in range(deep):
+        thing = kind([thing])
+    return thing
+
+
+def any_values():
+    """Values of all kinds, made anew for each call."""
+    integers = [-SIXTY_DIGITS, -10007, -2, -1, 0, 1, 2, 3, 4, 5, 6, 7, 8, 9, 25, 97, 9973, 9999, 10000, 10007,
+                10 ** 59, SIXTY_DIGITS, 10 ** 60 - 1]
+    strings = ["", "a", "abcdefgh", "abcdefghi", "A", "a b", "a\n", "1", "2", "-", "~", "prime", "note", "hold", "off",
+               "cyclic", "ring", "act", "z" * 4000]
+    counts = [(), ((2, 1),), SIX, FORTY, ((9973, 6),), EVERY_PRIME]
+    near_counts = [[], [(2, 1)], [[2, 1]], ([2, 1],), (2, 1), ((2, 1, 1),), ((2,),), ((True, 1),), ((2, True),),
+                   ((2, 0),), ((2, 7),), ((2, -1),), ((4, 1),), ((10007, 1),), ((3, 1), (2, 1)), ((2, 1), (2, 1)),
+                   ((2, None),), ((None, 1),), (("2", 1),), ((2, "1"),), (None,), (True,), ((2, 1), []), [(), ()]]
+    pieces = [("ring", 1), ("ring", SIXTY_DIGITS), ("power", 2, 6), ("knot", 3), FOUR, ("act", 7, 3, 2),
+              ("act", 1, 1, 0)]
+    near_pieces = [["ring", 3], ("ring",), ("ring", 0), ("ring", True), ("ring", 3, 3), (["ring"], 3), ("knot", 4),
+                   ("power", 2, 7), ("act", 7, 3, 3), ("turn", 2, [[0, 1], [1, 1]], 3), ("cube", 2)]
+    rules = [(piece,) for piece in pieces] + [tuple(pieces)]
+    near_rules = [[piece] for piece in pieces] + [(piece,) for piece in near_pieces]
+    events = [("prime", 2), ("drop", 9973), ("note", "a"), ("hold", "off")]
+    near_events = [["prime", 2], ("prime", True), ("drop", 4), ("note", ""), ("note", 2), ("hold", "on"),
+                   ("hold", []), ("prime", 2, 2), ("prime",), ([], 2), (None, None)]
+    large = [nested(list, 40), nested(tuple, 40), tuple(range(20000)), [0] * 20000]
+    return (integers + [True, False, None] + strings + counts + near_counts + pieces + near_pieces + rules
+            + near_rules + events + near_events + large)
+
+
+def is_real(thing):
+    """Whether it is an int that is no bool."""
+    return type(thing) is int
+
+
+def is_real_prime(thing):
+    """Whether it is a prime, by the table of all primes."""
+    return is_real(thing) and thing in PRIME_TABLE
+
+
+def is_real_count(thing):
+    """Whether it is a count, by [3] read once more."""
+    if type(thing) is not tuple or not all(type(pair) is tuple and len(pair) == 2 for pair in thing):
+        return False
+    if not all(is_real_prime(pair[0]) and is_real(pair[1]) and pair[1] in range(1, 7) for pair in thing):
+        return False
+    primes = [pair[0] for pair in thing]
+    return primes == sorted(set(primes))
+
+
+def some_counts():
+    """Counts with no prime, one, two, three, eight, twelve and all primes, and with powers from 1 to 6."""
+    one = [((prime, power),) for prime in (2, 3, 5, 97, 9973) for power in range(1, 7)]
+    two = [((p, i), (q, j)) for p, q in combinations((2, 3, 5, 7, 9967, 9973), 2) for i in (1, 2, 6) for j in (1, 3)]
+    three = [((2, i), (3, j), (11, k)) for i in (1, 2, 6) for j in (1, 5) for k in (1, 6)]
+    eight = [tuple((prime, power) for prime in PRIMES[:8]) for power in (1, 6)]
+    eight.append(tuple((prime, at % 6 + 1) for at, prime in enumerate(PRIMES[-8:])))
+    twelve = [tuple((prime, at % 6 + 1) for at, prime in enumerate(PRIMES[::100][:12]))]
+    return [()] + one + two + three + eight + twelve + [tuple((prime, 1) for prime in PRIMES[:12])]
+
+
+def plain_value(count):
+    """The value of a count, by [3]."""
+    value = 1
+    for prime, power in count:
+        value *= prime ** power
+    return value
+
+
+def plain_count(number):
+    """The count of a number that is at least 1, or None, by dividing by all primes."""
+    pairs = []
+    for prime in PRIMES:
+        power = 0
+        while number % prime == 0:
+            number //= prime
+            power += 1
+        if power > 6:
+            return None
+        if power:
+            pairs.append((prime, power))
+    return tuple(pairs) if number == 1 else None
+
+
+def written(thing):
+    """A text in which values of unlike kinds differ, True and 1 among them."""
+    if isinstance(thing, int) and not isinstance(thing, bool):
+        return hex(thing)
+    if isinstance(thing, (tuple, list)):
+        return f"{type(thing).__name__}({','.join(written(part) for part in thing)})"
+    return repr(thing)
+
+
+def outcome(call, *args, **more):
+    """What a call returns, or the error and its fields, as a text."""
+    try:
+        return written(call(*args, **more))
+    except (InvalidPaper, NotUsable) as error:
+        return f"{type(error).__name__} {error.word} {written(error.at)}"
+
+
+def refused(name, at=-1):
+    """The outcome of a call that raises NotUsable."""
+    return f"NotUsable {name} {written(at)}"
+
+
+def faulty(word, at):
+    """The outcome of a call that raises InvalidPaper."""
+    return f"InvalidPaper {word} {written(at)}"

@@ -1,0 +1,132 @@
+"""The rules of the language that can be seen file by file; the number of the rule stands in each message."""
+
+import ast
+import builtins
+import unittest
+from pathlib import Path
+
+PACKAGE = Path(__file__).resolve().parent.parent / "forcedtables"
+FILES = sorted(path for path in PACKAGE.rglob("*") if "__pycache__" not in path.parts)
+
+BUILTINS = set("""len range enumerate zip min max sum abs sorted reversed int str bool bytes list tuple dict set
+frozenset isinstance ord repr any all divmod iter next map Exception ValueError TypeError KeyError IndexError
+LookupError ZeroDivisionError ArithmeticError OverflowError RuntimeError NotImplementedError AttributeError
+StopIteration NotImplemented property staticmethod classmethod super""".split())
+LIBRARY = {"heapq": {"heappush", "heappop", "heapify", "heapreplace", "heappushpop"},
+           "math": {"gcd", "lcm", "isqrt", "comb", "perm", "factorial"},
+           "itertools": {"product", "combinations", "permutations"}}
+BARRED = set("""register mro elements open input law version_info with_traceback add_note attrgetter breakpoint builtins
+compile copyright credits delattr dir eval exec exit gc getattr globals hasattr help id importlib license locals
+methodcaller os quit setattr type vars sys typing enum""".split())
+STATEMENTS = (ast.Assign, ast.FunctionDef, ast.ClassDef, ast.ImportFrom)
+UNUSED = (ast.Global, ast.AsyncFunctionDef, ast.Await, ast.Import, ast.Div)
+METHODS = set("""append clear copy count endswith extend find get index insert isalnum isalpha isdigit islower isspace
+isupper items join keys ljust lower lstrip partition pop remove replace reverse rfind rjust rpartition rsplit rstrip
+setdefault split splitlines startswith strip update upper values zfill bit_length add discard""".split())
+
+
+def trees():
+    """Each file with its tree."""
+    return [(path, ast.parse(path.read_text())) for path in FILES]
+
+
+def own_names():
+    """All functions, classes and methods of the package."""
+    return {node.name for _, tree in trees() for node in ast.walk(tree)
+            if isinstance(node, (ast.FunctionDef, ast.ClassDef))}
+
+
+class Language(unittest.TestCase):
+    def test_files(self):
+        self.assertTrue((PACKAGE / "__init__.py").is_file(), "L14")
+        self.assertLessEqual(len(FILES), 100, "L14")
+        for path in FILES:
+            self.assertEqual(path.parent, PACKAGE, "L1")
+            self.assertTrue(path.suffix == ".py" and path.stem.replace("_", "").isalnum(), f"L1 {path}")
+            self.assertEqual(path.name, path.name.lower(), "L14")
+
+    def test_size_and_characters(self):
+        for path in FILES:
+            text = path.read_text()
+            lines = text.split("\n")
+            self.assertLessEqual(len(lines) - 1, 399, f"L10 {path}")
+            for at, line in enumerate(lines, 1):
+                self.assertLessEqual(len(line), 120, f"L10 {path}:{at}")
+                self.assertTrue(all(" " <= sign <= "~" for sign in line), f"L14 {path}:{at}")
+
+    def test_functions(self):
+        for path, tree in trees():
+            for node in ast.walk(tree):
+                if isinstance(node, ast.FunctionDef):
+                    self.assertLessEqual(node.end_lineno - node.lineno + 1, 40, f"L10 {path} {node.name}")
+
+    def test_module_level(self):
+        for path, tree in trees():
+            for node in tree.body:
+                docstring = isinstance(node, ast.Expr) and node is tree.body[0]
+                self.assertTrue(docstring or isinstance(node, STATEMENTS), f"L3 {path}:{node.lineno}")
+
+    def test_imports(self):
+        for path, tree in trees():
+            for node in ast.walk(tree):
+                if not isinstance(node, ast.ImportFrom):
+                    continue
+                self.assertIn(node, tree.body, f"L2 {path}")
+                names = {alias.name for alias in node.names}
+                if node.module in LIBRARY:
+                    self.assertLessEqual(names, LIBRARY[node.module], f"L2 {path}")
+                    continue
+                self.assertTrue(node.level == 0 and node.module.startswith("forcedtables."), f"L2 {path}")
+                other = ast.parse((PACKAGE / f"{node.module.split('.')[1]}.py").read_text())
+                defined = {part.name for part in other.body if isinstance(part, (ast.FunctionDef, ast.ClassDef))}
+                defined |= {part.targets[0].id for part in other.body if isinstance(part, ast.Assign)}
+                self.assertLessEqual(names, defined, f"L16 {path}")
+
+    def test_no_two_files_import_from_each_other(self):
+        imported = {path.stem: {node.module.split(".")[1] for node in tree.body if isinstance(node, ast.ImportFrom)
+                                and node.module.startswith("forcedtables.")} for path, tree in trees()}
+        while imported:
+            free = [name for name, others in imported.items() if not others & set(imported)]
+            self.assertTrue(free, f"L16 {sorted(imported)}")
+            for name in free:
+                del imported[name]
+
+    def test_names(self):
+        for path, tree in trees():
+            for node in ast.walk(tree):
+                if isinstance(node, ast.Name):
+                    self.assertNotIn(node.id, BARRED, f"L17 {path}:{node.lineno}")
+                    if node.id in dir(builtins):
+                        self.assertIn(node.id, BUILTINS, f"L8 {path}:{node.lineno}")
+                        self.assertIsInstance(node.ctx, ast.Load, f"L15 {path}:{node.lineno}")
+                if isinstance(node, ast.arg):
+                    self.assertNotIn(node.arg, set(dir(builtins)) | BARRED, f"L15 {path}:{node.lineno}")
+                if isinstance(node, (ast.FunctionDef, ast.ClassDef)):
+                    self.assertNotIn(node.name, BARRED, f"L17 {path}:{node.lineno}")
+
+    def test_expressions(self):
+        for path, tree in trees():
+            for node in ast.walk(tree):
+                where = f"{path}:{getattr(node, 'lineno', 0)}"
+                self.assertNotIsInstance(node, UNUSED, f"L6 {where}")
+                if isinstance(node, ast.Constant):
+                    self.assertNotIsInstance(node.value, (float, complex), f"L7 {where}")
+                    self.assertFalse(isinstance(node.value, str) and "%" in node.value, f"L27 {where}")
+                if isinstance(node, ast.BinOp) and isinstance(node.op, ast.Pow):
+                    self.assertIsInstance(node.right, ast.Constant, f"L27 {where}")
+                if isinstance(node, ast.Compare) and any(isinstance(op, (ast.Is, ast.IsNot)) for op in node.ops):
+                    self.assertTrue(all(isinstance(part, ast.Constant) for part in node.comparators), f"L20 {where}")
+
+    def test_methods(self):
+        own = own_names()
+        for path, tree in trees():
+            for node in ast.walk(tree):
+                if isinstance(node, ast.Call) and isinstance(node.func, ast.Attribute):
+                    self.assertIn(node.func.attr, METHODS | own, f"L25 {path}:{node.lineno}")
+
+    def test_docstrings(self):
+        for path, tree in trees():
+            self.assertIsNotNone(ast.get_docstring(tree), path)
+            for node in ast.walk(tree):
+                if isinstance(node, (ast.FunctionDef, ast.ClassDef)) and not node.name.startswith("__"):
+                    self.assertIsNotNone(ast.get_docstring(node), f"{path}:{node.lineno}")
