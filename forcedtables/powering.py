@@ -1,4 +1,4 @@
-"""Powers of numbers and of square tables."""
+"""Powers of numbers and of square tables, and what these make of columns."""
 
 
 def raised(base, power):
@@ -27,25 +27,35 @@ def table_one(size):
     return tuple([tuple([1 if column == row else 0 for column in range(size)]) for row in range(size)])
 
 
-def table_times(left, right, prime):
-    """Give the product of two square tables of one size, modulo the prime."""
+def table_times(left, right, modulus):
+    """Give the product of two square tables of one size, by the modulus."""
     columns = list(zip(*right))
-    return tuple([tuple([row_times(row, column, prime) for column in columns]) for row in left])
+    return tuple([tuple([row_times(row, column, modulus) for column in columns]) for row in left])
 
 
-def row_times(row, column, prime):
-    """Give the sum of the products place by place, modulo the prime."""
-    return sum([number * other for number, other in zip(row, column)]) % prime
+def row_times(row, column, modulus):
+    """Give the sum of the products place by place, by the modulus."""
+    return sum([number * other for number, other in zip(row, column)]) % modulus
 
 
-def table_raised(table, power, prime):
-    """Give the square table to this power, at least 0, modulo the prime."""
+def column_times(table, column, modulus):
+    """Give what the square table makes of a column, by the modulus."""
+    return tuple([row_times(row, column, modulus) for row in table])
+
+
+def column_plus(column, other, modulus):
+    """Give the sum of two columns of one size place by place, by the modulus."""
+    return tuple([(number + more) % modulus for number, more in zip(column, other)])
+
+
+def table_raised(table, power, modulus):
+    """Give the square table to this power, at least 0, by the modulus."""
     result = table_one(len(table))
     square = table
     rest = power
     while rest > 0:
         if rest % 2 == 1:
-            result = table_times(result, square, prime)
-        square = table_times(square, square, prime)
+            result = table_times(result, square, modulus)
+        square = table_times(square, square, modulus)
         rest = rest // 2
     return result

@@ -1,8 +1,8 @@
-"""The checker of rules and their pieces."""
+"""The checker of rules and their pieces, and the demand that an argument is a rule."""
 
 from math import gcd
 
-from forcedtables.errors import InvalidPaper
+from forcedtables.errors import InvalidPaper, NotUsable
 from forcedtables.kinds import is_below, is_positive, is_power, is_prime
 from forcedtables.powering import raised, raised_modulo, table_one, table_raised
 
@@ -30,6 +30,12 @@ def lets_rule(thing):
     for piece in thing:
         order = order * piece_order(piece)
     return order
+
+
+def need_rule(name, thing):
+    """Raise NotUsable with the name of the parameter for any value that is no rule."""
+    if not is_rule(thing):
+        raise NotUsable(name, -1)
 
 
 def rule_fault(thing):

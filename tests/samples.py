@@ -1,19 +1,36 @@
 """Values for the tests, and plain ways to tell what they are."""
 
-from itertools import combinations
+from inspect import isgenerator
+from itertools import combinations, product
 
-from forcedtables.errors import InvalidPaper, NotUsable
+from forcedtables.errors import InvalidPaper, InvalidText, NotUsable
 
 SIX = ((2, 1), (3, 1))
 FIFTEEN = ((3, 1), (5, 1))
 THIRTY = ((2, 1), (3, 1), (5, 1))
 FORTY = ((2, 3), (5, 1))
 FOUR = ("turn", 2, ((0, 1), (1, 1)), 3)
+S3 = (("act", 3, 2, 2),)
+MIXED = (("knot", 2), FOUR, ("ring", 10))
 
 PRIMES = [n for n in range(2, 10000) if all(n % k for k in range(2, int(n ** 0.5) + 1))]
 PRIME_TABLE = dict.fromkeys(PRIMES, True)
 EVERY_PRIME = tuple((prime, 6) for prime in PRIMES)
 SIXTY_DIGITS = 10 ** 59 + 7
+MERSENNE = 2 ** 199 - 1  # sixty digits; 2 has the order 199 modulo this
+
+# Rules of at most sixty elements, each piece of [4] among them with its least numbers.
+SMALL_RULES = [
+    (("ring", 1),), (("ring", 2),), (("ring", 12),), (("power", 2, 1),), (("power", 2, 3),), (("power", 3, 2),),
+    (("power", 7, 1),), (("knot", 2),), (("knot", 3),), (FOUR,), (("turn", 3, ((2,),), 2),), (("turn", 7, ((4,),), 3),),
+    (("turn", 3, ((0, 1), (1, 0)), 2),), (("turn", 3, ((2, 0), (0, 2)), 2),), (("turn", 5, ((1, 0), (0, 4)), 2),),
+    (("turn", 2, ((0, 1, 0), (0, 0, 1), (1, 0, 0)), 3),), (("turn", 2, ((0, 1, 0), (0, 0, 1), (1, 1, 0)), 7),),
+    (("act", 1, 1, 0),), (("act", 1, 6, 0),), (("act", 6, 1, 1),), S3, (("act", 7, 3, 2),), (("act", 9, 2, 8),),
+    (("act", 5, 4, 2),), (("act", 3, 4, 2),), (("act", 4, 9, 1),), (("act", 5, 6, 4),), (("act", 15, 2, 4),),
+    (("ring", 2), ("ring", 2)), (("ring", 6), ("ring", 4)), (("ring", 5), ("act", 3, 2, 2)),
+    (("knot", 2), ("ring", 3)), (("ring", 3), ("knot", 2)),
+    (("ring", 2), ("power", 3, 1), ("act", 3, 2, 2)), (("ring", 1), ("ring", 1), ("ring", 1), ("knot", 2)),
+]
 
 
 def nested(kind, deep):
@@ -29,7 +46,7 @@ def any_values():
     integers = [-SIXTY_DIGITS, -10007, -2, -1, 0, 1, 2, 3, 4, 5, 6, 7, 8, 9, 25, 97, 9973, 9999, 10000, 10007,
                 10 ** 59, SIXTY_DIGITS, 10 ** 60 - 1]
     strings = ["", "a", "abcdefgh", "abcdefghi", "A", "a b", "a\n", "1", "2", "-", "~", "prime", "note", "hold", "off",
-               "cyclic", "ring", "act", "z" * 4000]
+               "cyclic", "ring", "act", "z" * 4000, "2^3 5^1", "5^1 2^3", "ring 6 | knot 3", "ring 6 |", "\n"]
     counts = [(), ((2, 1),), SIX, FORTY, ((9973, 6),), EVERY_PRIME]
     near_counts = [[], [(2, 1)], [[2, 1]], ([2, 1],), (2, 1), ((2, 1, 1),), ((2,),), ((True, 1),), ((2, True),),
                    ((2, 0),), ((2, 7),), ((2, -1),), ((4, 1),), ((10007, 1),), ((3, 1), (2, 1)), ((2, 1), (2, 1)),
@@ -43,9 +60,12 @@ def any_values():
     events = [("prime", 2), ("drop", 9973), ("note", "a"), ("hold", "off")]
     near_events = [["prime", 2], ("prime", True), ("drop", 4), ("note", ""), ("note", 2), ("hold", "on"),
                    ("hold", []), ("prime", 2, 2), ("prime",), ([], 2), (None, None)]
+    parts = [(0,), ((1, 0),), ((0, 1),), ((2, 1),), ((0, 0, 0),), ((1, 0), (0, 1))]
+    near_parts = [[(1, 0)], ([1, 0],), (1, 0), ((3, 0),), ((0, 2),), ((True, 0),), ((0, False),), ((-1, 0),),
+                  (("1", 0),), ((1, 0, 0),), ((1,),), ((1, None),)]
     large = [nested(list, 40), nested(tuple, 40), tuple(range(20000)), [0] * 20000]
     return (integers + [True, False, None] + strings + counts + near_counts + pieces + near_pieces + rules
-            + near_rules + events + near_events + large)
+            + near_rules + events + near_events + parts + near_parts + large)
 
 
 def is_real(thing):
@@ -102,6 +122,54 @@ def plain_count(number):
     return tuple(pairs) if number == 1 else None
 
 
+def plain_moved(table, column, times, modulus):
+    """What the table makes of the column, so many times one behind the other."""
+    for _ in range(times):
+        column = tuple(sum(number * part for number, part in zip(row, column)) % modulus for row in table)
+    return column
+
+
+def plain_part(piece, part, other):
+    """Two elements of a piece put together, by [4]."""
+    word = piece[0]
+    if word == "ring":
+        return (part + other) % piece[1]
+    if word == "power":
+        return tuple((one + two) % piece[1] for one, two in zip(part, other))
+    if word == "knot":
+        (a, b, c), (d, e, f) = part, other
+        return ((a + d) % piece[1], (b + e) % piece[1], (c + f + a * e) % piece[1])
+    (x, t), (y, s) = part, other
+    if word == "turn":
+        moved = plain_moved(piece[2], y, t, piece[1])
+        return (tuple((one + two) % piece[1] for one, two in zip(x, moved)), (t + s) % piece[3])
+    return ((x + piece[3] ** t * y) % piece[1], (t + s) % piece[2])
+
+
+def plain_together(rule, element, other):
+    """Two elements of a rule put together, by [4] and [5]."""
+    return tuple(plain_part(piece, part, late) for piece, part, late in zip(rule, element, other))
+
+
+def plain_parts(piece):
+    """All elements of a piece, ascending, by [4]."""
+    word, below = piece[0], range(piece[1])
+    if word == "ring":
+        return list(below)
+    if word == "power":
+        return list(product(below, repeat=piece[2]))
+    if word == "knot":
+        return list(product(below, repeat=3))
+    if word == "turn":
+        return list(product(product(below, repeat=len(piece[2])), range(piece[3])))
+    return list(product(below, range(piece[2])))
+
+
+def all_of(rule):
+    """All elements of a rule, ascending."""
+    return list(product(*[plain_parts(piece) for piece in rule]))
+
+
 def written(thing):
     """A text in which values of unlike kinds differ, True and 1 among them."""
     if isinstance(thing, int) and not isinstance(thing, bool):
@@ -114,9 +182,12 @@ def written(thing):
 def outcome(call, *args, **more):
     """What a call returns, or the error and its fields, as a text."""
     try:
-        return written(call(*args, **more))
+        result = call(*args, **more)
+        return written(list(result) if isgenerator(result) else result)
     except (InvalidPaper, NotUsable) as error:
         return f"{type(error).__name__} {error.word} {written(error.at)}"
+    except InvalidText as error:
+        return f"InvalidText {written(error.line)} {written(error.field)}"
 
 
 def refused(name, at=-1):

@@ -50,6 +50,58 @@ CHANGES = """
     raises NotUsable(word='other', at=-1)
 """
 
+TEXTS = """
+    >>> from forcedtables.countreadings import count_read
+    >>> from forcedtables.counttexts import count_text
+    >>> from forcedtables.rulereadings import rule_read
+    >>> from forcedtables.ruletexts import rule_text
+    >>> [count_text(FORTY), count_text(()), rule_text((FOUR, ('act', 7, 3, 2))), rule_read('ring 6 | knot 3'), count_read('2^3 5^1') == FORTY]
+    ['2^3 5^1', '1', 'turn 2 0,1/1,1 3 | act 7 3 2', (('ring', 6), ('knot', 3)), True]
+    >>> count_read('5^1 2^3')
+    raises InvalidText(line=0, field=1)
+    >>> rule_read('act 7 3 3')
+    raises InvalidText(line=0, field=3)
+"""
+
+COUNT_CLASSES = """
+    >>> from forcedtables.countclasses import Count, Free
+    >>> one = Count((2, 3), (5, 1))
+    >>> [one.value_now, one[5], one[3], 2 in one, 3 in one, len(one), list(one), str(one)]
+    [40, 1, 0, True, False, 2, [(2, 3), (5, 1)], '2^3 5^1']
+    >>> [(one * SIX).count_now, (one // ((2, 1),)).value_now, (one & Free(7, 5)).primes_now, Count.of(SIX).divides(one * SIX), Count.of_number(40) == one]
+    [((2, 4), (3, 1), (5, 1)), 20, (5,), True, True]
+    >>> [Free(5, 2, 3) == Count.of(THIRTY), Free(7, 3, 2).acting_now, one.without(2).count_now]
+    [True, ((2, 3), (2, 7), (3, 7)), ((5, 1),)]
+    >>> Free(2, 4)
+    raises NotUsable(word='primes', at=1)
+"""
+
+RULES = """
+    >>> from forcedtables.rules import back, commutes_with, is_element, one_of, product_of, put_together, swap_of, to_the, turned_by
+    >>> S3 = (('act', 3, 2, 2),)
+    >>> A, B = ((1, 0),), ((0, 1),)
+    >>> [put_together(S3, A, B), put_together(S3, B, A), one_of(S3), back(S3, ((1, 1),)), to_the(S3, A, -1)]
+    [((1, 1),), ((2, 1),), ((0, 0),), ((1, 1),), ((2, 0),)]
+    >>> [commutes_with(S3, A, B), turned_by(S3, A, B), swap_of(S3, A, B), product_of(S3, A, A, B), product_of(S3), is_element(S3, (1, 0))]
+    [False, ((2, 0),), ((1, 0),), ((2, 1),), ((0, 0),), False]
+    >>> MIXED = (('knot', 2), ('turn', 2, ((0, 1), (1, 1)), 3), ('ring', 10))
+    >>> put_together(MIXED, ((1, 0, 1), ((1, 0), 1), 7), ((0, 1, 1), ((1, 0), 0), 6))
+    ((1, 1, 1), ((1, 1), 1), 3)
+    >>> [back(MIXED, ((1, 0, 1), ((1, 0), 1), 7)), to_the((('ring', 9),), (7,), 10 ** 40)]
+    [((1, 0, 1), ((1, 1), 2), 3), (7,)]
+    >>> put_together(S3, A, (0, 1))
+    raises NotUsable(word='other', at=-1)
+"""
+
+ORDERS = """
+    >>> from forcedtables.orders import order_of, order_of_rule, powers_of, span_of
+    >>> [order_of(S3, A), order_of(S3, ((1, 1),)), order_of_rule(S3), span_of(S3), list(powers_of(S3, A))]
+    [3, 2, 6, 6, [((0, 0),), ((1, 0),), ((2, 0),)]]
+    >>> SOME = ((1, 1, 0), ((1, 0), 1), 4)
+    >>> [order_of(MIXED, SOME), order_of_rule(MIXED), span_of(MIXED)]
+    [60, 960, 60]
+"""
+
 
 def told(line, names):
     """What the document prints below a line."""
@@ -80,6 +132,25 @@ class Examples(unittest.TestCase):
 
     def test_parts_and_changes(self):
         self.follow(COUNTS, PARTS, CHANGES)
+
+    def test_texts(self):
+        self.follow(COUNTS, KINDS, PARTS, TEXTS)
+
+    def test_classes_of_counts(self):
+        self.follow(COUNTS, COUNT_CLASSES)
+
+    def test_rules_and_orders(self):
+        self.follow(COUNTS, RULES, ORDERS)
+
+    def test_what_is_said_below_them(self):
+        self.follow(RULES, ORDERS, """
+            >>> [put_together(S3, B, A), 0 + 2 * 1, 1 + 0]
+            [((2, 1),), 2, 1]
+            >>> [order_of((piece,), (part,)) for piece, part in zip(MIXED, SOME)]
+            [4, 3, 5]
+            >>> to_the((("knot", 2),), ((1, 1, 0),), 2)
+            ((0, 0, 1),)
+        """)
 
     def test_powers_of_two_and_three_modulo_seven(self):
         self.follow("""

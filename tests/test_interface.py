@@ -5,8 +5,12 @@ import importlib
 import inspect
 import unittest
 
-from tests.samples import (FORTY, FOUR, SIX, THIRTY, any_values, faulty, is_real, is_real_count, is_real_prime,
-                           outcome, refused, written)
+from forcedtables.rulechecker import is_rule
+from tests.samples import (FORTY, FOUR, MIXED, S3, SIX, THIRTY, all_of, any_values, faulty, is_real, is_real_count,
+                           is_real_prime, outcome, refused, written)
+
+A, B = ((1, 0),), ((0, 1),)
+GENERATOR = type(part for part in ())
 
 # Module, function, its parameters with a value that can be used, the kinds of its results.
 FUNCTIONS = [
@@ -37,14 +41,46 @@ FUNCTIONS = [
     ("countchanges", "lowered", {"count": FORTY, "prime": 2}, (tuple,)),
     ("countchanges", "without_prime", {"count": FORTY, "prime": 2}, (tuple,)),
     ("countchanges", "square_free_of", {"count": FORTY}, (tuple,)),
+    ("counttexts", "count_text", {"count": FORTY}, (str,)),
+    ("ruletexts", "rule_text", {"rule": MIXED}, (str,)),
+    ("countreadings", "count_read", {"text": "2^3 5^1"}, (tuple,)),
+    ("rulereadings", "rule_read", {"text": "ring 6 | knot 3"}, (tuple,)),
+    ("rules", "is_element", {"rule": S3, "thing": A}, (bool,)),
+    ("rules", "one_of", {"rule": S3}, (tuple,)),
+    ("rules", "put_together", {"rule": S3, "element": A, "other": B}, (tuple,)),
+    ("rules", "back", {"rule": S3, "element": A}, (tuple,)),
+    ("rules", "to_the", {"rule": S3, "element": A, "times": 4}, (tuple,)),
+    ("rules", "commutes_with", {"rule": S3, "element": A, "other": B}, (bool,)),
+    ("rules", "turned_by", {"rule": S3, "element": A, "other": B}, (tuple,)),
+    ("rules", "swap_of", {"rule": S3, "element": A, "other": B}, (tuple,)),
+    ("orders", "order_of", {"rule": S3, "element": A}, (int,)),
+    ("orders", "order_of_rule", {"rule": S3}, (int,)),
+    ("orders", "span_of", {"rule": S3}, (int,)),
+    ("orders", "powers_of", {"rule": S3, "element": A}, (GENERATOR,)),
 ]
 
+
+def is_part_of_s3(thing):
+    """Whether it is an element of S3, no True and no False in it."""
+    return written(thing) in [written(part) for part in all_of(S3)]
+
+
+# What a parameter has to be; the elements are those of S3 while the other parameters are as above.
 STATED = {
     "count": is_real_count,
-    "other": is_real_count,
     "prime": is_real_prime,
     "number": lambda thing: is_real(thing) and thing >= 1,
+    "rule": is_rule,
+    "element": is_part_of_s3,
+    "times": is_real,
 }
+
+
+def stated_for(module, parameter):
+    """What this parameter has to be in the functions of a module, or None if it is judged or read."""
+    if parameter == "other":
+        return is_part_of_s3 if module == "rules" else is_real_count
+    return STATED.get(parameter)
 
 
 def function(module, name):
@@ -53,7 +89,9 @@ def function(module, name):
 
 
 def is_plain(thing):
-    """Whether it consists of exactly ints, bools, None, strings and tuples."""
+    """Whether it consists of exactly ints, bools, None, strings and tuples, or yields such."""
+    if isinstance(thing, GENERATOR):
+        return all(is_plain(part) for part in list(thing))
     if type(thing) is tuple:
         return all(is_plain(part) for part in thing)
     return type(thing) in (int, bool, str, type(None))
@@ -73,8 +111,17 @@ class Interface(unittest.TestCase):
             result = called(*args.values())
             self.assertIn(type(result), kinds, name)
             self.assertTrue(is_plain(result), name)
-            self.assertEqual(written(called(**args)), written(result), name)
-            self.assertEqual(written(called(**dict(reversed(args.items())))), written(result), name)
+            by_place = outcome(called, *args.values())
+            self.assertEqual(outcome(called, **args), by_place, name)
+            self.assertEqual(outcome(called, **dict(reversed(args.items()))), by_place, name)
+
+    def test_any_number_of_parts(self):
+        found = function("rules", "product_of")
+        self.assertEqual(found.__module__, "forcedtables.rules")
+        rule, parts = inspect.signature(found).parameters.values()
+        self.assertEqual([rule.name, parts.name], ["rule", "parts"])
+        self.assertEqual([rule.kind, parts.kind], [rule.POSITIONAL_OR_KEYWORD, parts.VAR_POSITIONAL])
+        self.assertEqual([found(rule=S3), found(S3), found(S3, A, A, B)], [((0, 0),), ((0, 0),), ((2, 1),)])
 
 
 class AnyValues(unittest.TestCase):
@@ -93,11 +140,11 @@ class AnyValues(unittest.TestCase):
         self.assertEqual(written(list(args.values())), before, name)
         if name.startswith("is_") and parameter == "thing":
             self.assertIn(result, ("True", "False"), name)
-        if parameter in STATED and name != "is_choice":
-            stated = STATED[parameter](args[parameter])
-            if not stated:
+        stated = stated_for(module, parameter)
+        if stated is not None and name != "is_choice":
+            if not stated(args[parameter]):
                 self.assertEqual(result, refused(parameter), (name, before))
-            elif parameter in ("count", "number") and len(args) == 1:
+            elif len(args) == 1 or parameter in ("element", "times"):
                 self.assertIn(type(called(**args)), kinds, name)
 
     def test_the_first_parameter_that_is_not_as_stated_is_named(self):
@@ -107,7 +154,8 @@ class AnyValues(unittest.TestCase):
                 continue
             called = function(module, name)
             for thing in (None, True, -1, [], "2", ((4, 1),)):
-                self.assertEqual(outcome(called, **dict.fromkeys(args, thing)), refused(parameters[0]), name)
+                if parameters != ["text"] or thing != "2":
+                    self.assertEqual(outcome(called, **dict.fromkeys(args, thing)), refused(parameters[0]), name)
 
     def test_a_second_count_that_is_none_comes_before_what_it_does(self):
         for name in ("times", "over", "common", "joined", "does_divide"):
@@ -116,10 +164,18 @@ class AnyValues(unittest.TestCase):
                 self.assertEqual(outcome(called, ((2, 6),), thing), refused("other"), name)
                 self.assertEqual(outcome(called, thing, ((2, 6),)), refused("count"), name)
 
+    def test_of_two_elements_the_first_that_is_none_is_named(self):
+        for name in ("put_together", "commutes_with", "turned_by", "swap_of"):
+            called = function("rules", name)
+            for thing in ((1, 0), [(1, 0)], ((3, 0),), ((True, 0),), (), None, True, "a"):
+                self.assertEqual(outcome(called, S3, thing, thing), refused("element"), name)
+                self.assertEqual(outcome(called, S3, A, thing), refused("other"), name)
+                self.assertEqual(outcome(called, [S3], thing, A), refused("rule"), name)
+
     def test_lists_are_left_as_they_were(self):
         for module, name, args, _ in FUNCTIONS:
-            for thing in ([2, 1], [[2, 1], [3, 1]], ([2, 1], [3, 1]), [FOUR], [["ring", 3]], (["ring", 3], []),
-                          ((2, [1]),), ("turn", 2, [[0, 1], [1, 1]], 3)):
+            for thing in ([(1, 0)], ([1, 0],), ([], []), [2, 1], [[2, 1], [3, 1]], ([2, 1], [3, 1]), [FOUR],
+                          [["ring", 3]], (["ring", 3], []), ((2, [1]),), ("turn", 2, [[0, 1], [1, 1]], 3)):
                 kept = copy.deepcopy(thing)
                 for parameter in args:
                     outcome(function(module, name), **{**args, parameter: thing})

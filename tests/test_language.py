@@ -24,6 +24,9 @@ METHODS = set("""append clear copy count endswith extend find get index insert i
 isupper items join keys ljust lower lstrip partition pop remove replace reverse rfind rjust rpartition rsplit rstrip
 setdefault split splitlines startswith strip update upper values zfill bit_length add discard""".split())
 
+SPECIAL = set("""__init__ __eq__ __str__ __len__ __iter__ __call__ __contains__ __getitem__ __mul__ __floordiv__ __and__
+__or__""".split())
+
 
 def trees():
     """Each file with its tree."""
@@ -123,6 +126,54 @@ class Language(unittest.TestCase):
             for node in ast.walk(tree):
                 if isinstance(node, ast.Call) and isinstance(node.func, ast.Attribute):
                     self.assertIn(node.func.attr, METHODS | own, f"L25 {path}:{node.lineno}")
+
+    def test_classes(self):
+        for path, tree in trees():
+            for made in [node for node in tree.body if isinstance(node, ast.ClassDef)]:
+                self.assertEqual(made.decorator_list, [], f"L5 {path}")
+                methods = {node.name: node for node in made.body if isinstance(node, ast.FunctionDef)}
+                for name, method in methods.items():
+                    if name.startswith("__"):
+                        self.assertIn(name, SPECIAL, f"L5 {path}")
+                    self.assertLessEqual({getattr(one, "id", None) for one in method.decorator_list},
+                                         {"property", "classmethod"}, f"L5 {path} {name}")
+                if "__getitem__" in methods:
+                    self.assertIn("__iter__", methods, f"L5 {path}")
+                kept = {node.attr for node in ast.walk(made) if isinstance(node, ast.Attribute)
+                        and isinstance(node.ctx, ast.Store)}
+                self.assertFalse(kept & set(methods), f"L18 {path}")
+
+    def test_methods_with_one_form(self):
+        forms = {"__iter__": ("iter",), "__len__": ("len",), "__str__": ("str",)}
+        for path, tree in trees():
+            for node in ast.walk(tree):
+                if isinstance(node, ast.FunctionDef) and node.name in forms:
+                    last = node.body[-1]
+                    self.assertIsInstance(last, ast.Return, f"L28 {path}:{node.lineno}")
+                    self.assertIsInstance(last.value, ast.Call, f"L28 {path}:{node.lineno}")
+                    self.assertIn(last.value.func.id, forms[node.name], f"L28 {path}:{node.lineno}")
+                    if node.name == "__iter__":
+                        self.assertEqual(len(node.body), 1, f"L5 {path}:{node.lineno}")
+
+    def test_nothing_is_changed_in_place(self):
+        for path, tree in trees():
+            inits = [node for node in ast.walk(tree) if isinstance(node, ast.FunctionDef) and node.name == "__init__"]
+            allowed = {id(part) for init in inits for part in ast.walk(init)}
+            for node in ast.walk(tree):
+                where = f"L5 {path}:{getattr(node, 'lineno', 0)}"
+                self.assertNotIsInstance(node, (ast.AugAssign, ast.Delete), where)
+                if isinstance(node, ast.Attribute) and isinstance(node.ctx, ast.Store):
+                    self.assertIn(id(node), allowed, where)
+
+    def test_generators_are_used_at_once(self):
+        yielding = {node.name for _, tree in trees() for node in ast.walk(tree) if isinstance(node, ast.FunctionDef)
+                    and any(isinstance(part, ast.Yield) for part in ast.walk(node))}
+        for path, tree in trees():
+            for node in ast.walk(tree):
+                if isinstance(node, ast.Name):
+                    self.assertNotIn(node.id, yielding, f"L23 {path}:{node.lineno}")
+                if isinstance(node, ast.GeneratorExp):
+                    self.fail(f"L7 {path}:{node.lineno}")
 
     def test_docstrings(self):
         for path, tree in trees():

@@ -5,9 +5,7 @@ from itertools import product
 from math import gcd
 
 from forcedtables.rulechecker import is_piece, is_rule, lets_rule
-from tests.samples import FOUR, PRIME_TABLE, SIXTY_DIGITS, any_values, faulty, outcome, written
-
-TWICE = 2 ** 199 - 1  # sixty digits; 2 has the order 199 modulo this
+from tests.samples import FOUR, MERSENNE, PRIME_TABLE, SIXTY_DIGITS, any_values, faulty, outcome, written
 
 
 def one(size):
@@ -36,7 +34,8 @@ def plain_power(table, power, prime):
 
 # Pieces that are right, each with how many elements it has.
 PIECES = [
-    (("ring", 1), 1), (("ring", 2), 2), (("ring", 6), 6), (("ring", 10007), 10007), (("ring", SIXTY_DIGITS), SIXTY_DIGITS),
+    (("ring", 1), 1), (("ring", 2), 2), (("ring", 6), 6), (("ring", 10007), 10007),
+    (("ring", SIXTY_DIGITS), SIXTY_DIGITS),
     (("power", 2, 1), 2), (("power", 2, 6), 64), (("power", 9973, 1), 9973), (("power", 9973, 6), 9973 ** 6),
     (("power", 5, 3), 125),
     (("knot", 2), 8), (("knot", 3), 27), (("knot", 9973), 9973 ** 3),
@@ -50,8 +49,8 @@ PIECES = [
     (("act", SIXTY_DIGITS, 1, 1), SIXTY_DIGITS), (("act", 6, 1, 1), 6), (("act", 2, 1, 1), 2), (("act", 7, 3, 2), 21),
     (("act", 7, 3, 4), 21), (("act", 7, 3, 1), 21), (("act", 91, 3, 16), 273), (("act", 15, 2, 14), 30),
     (("act", 5, 6, 4), 30), (("act", 4, 9, 1), 36), (("act", 9, 2, 8), 18), (("act", 3, 4, 2), 12),
-    (("act", TWICE, 199, 2), TWICE * 199), (("act", TWICE, 199 * 10 ** 57, 2), TWICE * 199 * 10 ** 57),
-    (("act", TWICE, 2, TWICE - 1), TWICE * 2),
+    (("act", MERSENNE, 199, 2), MERSENNE * 199), (("act", MERSENNE, 199 * 10 ** 57, 2), MERSENNE * 199 * 10 ** 57),
+    (("act", MERSENNE, 2, MERSENNE - 1), MERSENNE * 2),
 ]
 
 # Values that are no pieces, by the word and the place of their first fault; None is the piece itself.
@@ -96,11 +95,11 @@ FAULTS = {
         ("turn", 2, ((1, 1), (0, 1)), 3)] + [("turn", 2, one(size), 3) for size in range(1, 7)],
     ("share", None): [
         ("act", 6, 4, 5), ("act", 2, 2, 1), ("act", 6, 6, 1), ("act", 21, 7, 1), ("act", 10 ** 59, 10 ** 50, 1),
-        ("act", TWICE, 3 * TWICE, 1), ("act", 9, 3, 4)],
+        ("act", MERSENNE, 3 * MERSENNE, 1), ("act", 9, 3, 4)],
     ("act", None): [
         ("act", 7, 3, 3), ("act", 7, 3, 0), ("act", 7, 3, 6), ("act", 2, 1, 0), ("act", 7, 1, 2), ("act", 5, 3, 4),
-        ("act", 15, 2, 2), ("act", 91, 3, 17), ("act", TWICE, 198, 2), ("act", TWICE, 200, 2),
-        ("act", TWICE, 199 * 10 ** 57 + 1, 2), ("act", SIXTY_DIGITS, 1, 2)],
+        ("act", 15, 2, 2), ("act", 91, 3, 17), ("act", MERSENNE, 198, 2), ("act", MERSENNE, 200, 2),
+        ("act", MERSENNE, 199 * 10 ** 57 + 1, 2), ("act", SIXTY_DIGITS, 1, 2)],
 }
 
 
