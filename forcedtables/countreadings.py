@@ -10,9 +10,10 @@ MOST_DIGITS = 60
 def count_read(text):
     """Return the count that the text writes, or raise InvalidText."""
     words = words_of(text)
-    if words[0] == "1":
-        need_end(words, 1)
+    if words == ["1"]:
         return ()
+    if words[0] == "1":
+        raise InvalidText(0, 1)
     pairs = []
     before = 0
     for at, word in enumerate(words):
@@ -30,12 +31,6 @@ def words_of(text):
         raise NotUsable("text", -1)
     # Only a single space parts words: a second one leaves an empty word, a newline parts none.
     return text.split(" ")
-
-
-def need_end(words, many):
-    """Raise InvalidText if there are more words than so many."""
-    if len(words) > many:
-        raise InvalidText(0, many)
 
 
 def number_read(word):

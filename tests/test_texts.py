@@ -263,6 +263,19 @@ class RuleTexts(unittest.TestCase):
             self.assertEqual(outcome(rule_read, "act 7 3 " + word), missing(3), repr(word))
             self.assertEqual(outcome(rule_read, "turn 7 " + word + " 3"), missing(2), repr(word))
 
+    def test_each_sign_beside_a_digit(self):
+        for code in [10, *range(32, 127)]:
+            sign = chr(code)
+            for word in (sign, "1" + sign, sign + "1", "1" + sign + "1"):
+                for text in (f"ring {word}", f"ring 6 | ring {word}", f"power 5 {word}", f"turn 7 {word} 3"):
+                    field = wrong_field_of_rule(text)
+                    if field is None:
+                        self.assertEqual(rule_text(rule_read(text)), text)
+                    else:
+                        self.assertEqual(outcome(rule_read, text), missing(field), repr(text))
+                stands = wrong_field_of_count(f"2^{word}") is None
+                self.assertIs(outcome(count_read, f"2^{word}").startswith("tuple"), stands, repr(word))
+
     def test_many_pieces(self):
         text = " | ".join(["act 7 3 2"] * 300)
         self.assertEqual(rule_read(text), (("act", 7, 3, 2),) * 300)
