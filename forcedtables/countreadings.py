@@ -33,9 +33,9 @@ def words_of(text):
     return text.split(" ")
 
 
-def number_read(word):
-    """Return the number that a word writes, or None if it writes none."""
-    if not 1 <= len(word) <= MOST_DIGITS or not all([sign in DIGITS for sign in word]):
+def number_read(word, digits=MOST_DIGITS):
+    """Return the number that a word of at most so many digits writes, or None if it writes none."""
+    if not 1 <= len(word) <= digits or not all([sign in DIGITS for sign in word]):
         return None
     if word[0] == "0" and len(word) > 1:
         return None

@@ -124,6 +124,11 @@ def element_raised(rule, element, times):
     return tuple([part_raised(piece, part, times % piece_span(piece)) for piece, part in zip(rule, element)])
 
 
+def with_part(rule, at, part):
+    """Give the element with this part at the piece of this index, and what changes nothing at all others."""
+    return tuple([part if place == at else part_one(piece) for place, piece in enumerate(rule)])
+
+
 def part_one(piece):
     """Give the element of the piece that changes nothing."""
     if piece[0] == "knot":

@@ -3,7 +3,7 @@
 from inspect import isgenerator
 from itertools import combinations, product
 
-from forcedtables.errors import InvalidPaper, InvalidText, NotUsable
+from forcedtables.errors import InvalidPaper, InvalidText, NothingToUndo, NotUsable
 
 SIX = ((2, 1), (3, 1))
 FIFTEEN = ((3, 1), (5, 1))
@@ -13,6 +13,7 @@ FOUR = ("turn", 2, ((0, 1), (1, 1)), 3)
 S3 = (("act", 3, 2, 2),)
 MIXED = (("knot", 2), FOUR, ("ring", 10))
 
+SIGNS = " 0123456789^,;/|-+_.aT\n"
 PRIMES = [n for n in range(2, 10000) if all(n % k for k in range(2, int(n ** 0.5) + 1))]
 PRIME_TABLE = dict.fromkeys(PRIMES, True)
 EVERY_PRIME = tuple((prime, 6) for prime in PRIMES)
@@ -31,6 +32,22 @@ SMALL_RULES = [
     (("knot", 2), ("ring", 3)), (("ring", 3), ("knot", 2)),
     (("ring", 2), ("power", 3, 1), ("act", 3, 2, 2)), (("ring", 1), ("ring", 1), ("ring", 1), ("knot", 2)),
 ]
+
+TWO_ON = tuple(tuple(int((row + 2) % 6 == column) for column in range(6)) for row in range(6))
+SIX_ROWS = (("turn", 9973, TWO_ON, 3),)
+HUGE = (("ring", SIXTY_DIGITS), ("act", MERSENNE, 199 * 10 ** 57, 2), ("act", 1, SIXTY_DIGITS, 0),
+        ("act", SIXTY_DIGITS, 1, 1))
+# Rules whose elements are not listed, each with some of them.
+GREAT_RULES = {
+    MIXED: [((1, 0, 1), ((1, 0), 1), 7), ((0, 1, 1), ((1, 0), 0), 6), ((1, 1, 0), ((0, 1), 2), 9)],
+    (("power", 9973, 6),): [((1, 2, 3, 4, 5, 6),), ((9972, 0, 9971, 5000, 1, 7),)],
+    (("knot", 9973),): [((1, 2, 3),), ((9972, 9970, 5),), ((0, 17, 9000),)],
+    SIX_ROWS: [(((1, 2, 3, 4, 5, 6), 1),), (((9972, 0, 7, 0, 9, 1), 2),), (((0, 0, 0, 0, 0, 1), 0),)],
+    HUGE: [(10 ** 58 + 3, (12345, 7), (0, 10 ** 57), (3, 0)), (5, (MERSENNE - 1, 198), (0, 0), (10 ** 58, 0)),
+           (SIXTY_DIGITS - 1, (2 ** 198 + 9, 1), (0, SIXTY_DIGITS - 1), (SIXTY_DIGITS - 1, 0))],
+    (("act", 5, 4, 2), ("knot", 3), ("power", 2, 2), FOUR): [
+        ((3, 3), (1, 2, 0), (1, 1), ((1, 0), 2)), ((1, 2), (2, 2, 1), (0, 1), ((0, 1), 1))],
+}
 
 
 def nested(kind, deep):
@@ -188,6 +205,8 @@ def outcome(call, *args, **more):
         return f"{type(error).__name__} {error.word} {written(error.at)}"
     except InvalidText as error:
         return f"InvalidText {written(error.line)} {written(error.field)}"
+    except NothingToUndo as error:
+        return f"NothingToUndo {written(error.steps)}"
 
 
 def refused(name, at=-1):
@@ -198,3 +217,26 @@ def refused(name, at=-1):
 def faulty(word, at):
     """The outcome of a call that raises InvalidPaper."""
     return f"InvalidPaper {word} {written(at)}"
+
+
+def missing(field):
+    """The outcome of a call that raises InvalidText for a text of one line."""
+    return f"InvalidText 0x0 {hex(field)}"
+
+
+def changed(text, more):
+    """The text with a sign or a word put in, left out or exchanged, at each place."""
+    for at in range(len(text) + 1):
+        yield text[:at]
+        yield text[:at] + text[at + 1:]
+        for sign in SIGNS:
+            yield text[:at] + sign + text[at:]
+            yield text[:at] + sign + text[at + 1:]
+    words = text.split(" ")
+    for at in range(len(words) + 1):
+        yield " ".join(words[:at])
+        yield " ".join(words[:at] + words[at + 1:])
+        yield " ".join(words[:at] + words[at:at + 2][::-1] + words[at + 2:])
+        for word in [*more, *words]:
+            yield " ".join(words[:at] + [word] + words[at:])
+            yield " ".join(words[:at] + [word] + words[at + 1:])

@@ -102,6 +102,40 @@ ORDERS = """
     [60, 960, 60]
 """
 
+PLACING = """
+    >>> from forcedtables.placing import element_at, number_of
+    >>> [element_at(S3, 4), number_of(S3, ((2, 1),)), number_of(MIXED, SOME), element_at(MIXED, 794) == SOME]
+    [((2, 0),), 5, 794, True]
+    >>> element_at(S3, 6)
+    raises NotUsable(word='number', at=-1)
+"""
+
+ELEMENTS = """
+    >>> from forcedtables.elementclasses import Element, Placed
+    >>> from forcedtables.walkers import Walker
+    >>> a, b = Element(S3, A), Element(S3, B)
+    >>> [str(a * b), (b * a).value_now, a.order(), a.to_the(-1) == a.back(), a.turned_by(b) == a * a, a[0], list(a), len(a)]
+    ['1;1', ((2, 1),), 3, True, True, (1, 0), [(1, 0)], 1]
+    >>> one = Placed(MIXED, 2, 4)
+    >>> [one.value_now, one.index_now, one.order(), one == Element(MIXED, one.value_now)]
+    [((0, 0, 0), ((0, 0), 0), 4), 2, 5, True]
+    >>> a * one
+    raises NotUsable(word='other', at=-1)
+    >>> walker = Walker(S3)
+    >>> [walker.step(A), walker.step(B), walker.home(), walker(A), walker.undo(), walker.steps_now, list(walker)]
+    [((1, 0),), ((1, 1),), 2, ((2, 1),), ((0, 1),), (((1, 0),),), [((1, 0),)]]
+"""
+
+PICTURES = """
+    >>> from forcedtables.elementreadings import element_read
+    >>> from forcedtables.elementtexts import element_text
+    >>> from forcedtables.pictures import picture, story, table_of
+    >>> [element_text(MIXED, SOME), element_read(S3, '2;1'), picture(S3, (A, B)), table_of(S3, (B,)), story(S3, (A, B, A))]
+    ['1,1,0 1,0;1 4', ((2, 1),), ['4 3', '5 0'], ((((0, 0),),),), '0;0 > 1;0 > 1;1 > 0;1']
+    >>> element_read(MIXED, '1,1,0')
+    raises InvalidText(line=0, field=1)
+"""
+
 
 def told(line, names):
     """What the document prints below a line."""
@@ -141,6 +175,9 @@ class Examples(unittest.TestCase):
 
     def test_rules_and_orders(self):
         self.follow(COUNTS, RULES, ORDERS)
+
+    def test_elements_by_numbers_as_objects_and_in_pictures(self):
+        self.follow(COUNTS, RULES, ORDERS, PLACING, ELEMENTS, PICTURES)
 
     def test_what_is_said_below_them(self):
         self.follow(RULES, ORDERS, """

@@ -57,6 +57,13 @@ FUNCTIONS = [
     ("orders", "order_of_rule", {"rule": S3}, (int,)),
     ("orders", "span_of", {"rule": S3}, (int,)),
     ("orders", "powers_of", {"rule": S3, "element": A}, (GENERATOR,)),
+    ("placing", "element_at", {"rule": S3, "number": 4}, (tuple,)),
+    ("placing", "number_of", {"rule": S3, "element": A}, (int,)),
+    ("elementtexts", "element_text", {"rule": S3, "element": A}, (str,)),
+    ("elementreadings", "element_read", {"rule": S3, "text": "2;1"}, (tuple,)),
+    ("pictures", "table_of", {"rule": S3, "parts": (A, B)}, (tuple,)),
+    ("pictures", "picture", {"rule": S3, "parts": (A, B)}, (list,)),
+    ("pictures", "story", {"rule": S3, "parts": (A, B)}, (str,)),
 ]
 
 
@@ -73,14 +80,19 @@ STATED = {
     "rule": is_rule,
     "element": is_part_of_s3,
     "times": is_real,
+    "parts": lambda thing: type(thing) is tuple and all(is_part_of_s3(part) for part in thing),
+}
+# What it has to be in one module.
+STATED_THERE = {
+    ("rules", "other"): is_part_of_s3,
+    ("countchanges", "other"): is_real_count,
+    ("placing", "number"): lambda thing: is_real(thing) and 0 <= thing < 6,
 }
 
 
 def stated_for(module, parameter):
     """What this parameter has to be in the functions of a module, or None if it is judged or read."""
-    if parameter == "other":
-        return is_part_of_s3 if module == "rules" else is_real_count
-    return STATED.get(parameter)
+    return STATED_THERE.get((module, parameter), STATED.get(parameter))
 
 
 def function(module, name):
@@ -92,7 +104,7 @@ def is_plain(thing):
     """Whether it consists of exactly ints, bools, None, strings and tuples, or yields such."""
     if isinstance(thing, GENERATOR):
         return all(is_plain(part) for part in list(thing))
-    if type(thing) is tuple:
+    if type(thing) in (tuple, list):
         return all(is_plain(part) for part in thing)
     return type(thing) in (int, bool, str, type(None))
 
@@ -144,7 +156,7 @@ class AnyValues(unittest.TestCase):
         if stated is not None and name != "is_choice":
             if not stated(args[parameter]):
                 self.assertEqual(result, refused(parameter), (name, before))
-            elif len(args) == 1 or parameter in ("element", "times"):
+            elif len(args) == 1 or parameter in ("element", "times", "parts"):
                 self.assertIn(type(called(**args)), kinds, name)
 
     def test_the_first_parameter_that_is_not_as_stated_is_named(self):

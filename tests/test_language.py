@@ -25,7 +25,9 @@ isupper items join keys ljust lower lstrip partition pop remove replace reverse 
 setdefault split splitlines startswith strip update upper values zfill bit_length add discard""".split())
 
 SPECIAL = set("""__init__ __eq__ __str__ __len__ __iter__ __call__ __contains__ __getitem__ __mul__ __floordiv__ __and__
-__or__""".split())
+__or__ __iadd__""".split())
+# Where attributes are assigned: no operator and no property calls these, but for a sign that changes its object.
+CHANGING = {"__init__", "step", "undo"}
 
 
 def trees():
@@ -144,21 +146,30 @@ class Language(unittest.TestCase):
                 self.assertFalse(kept & set(methods), f"L18 {path}")
 
     def test_methods_with_one_form(self):
-        forms = {"__iter__": ("iter",), "__len__": ("len",), "__str__": ("str",)}
+        forms = {"__iter__": ("iter(",), "__len__": ("len(",), "__str__": ("str(", "' '.join(", "'-'")}
         for path, tree in trees():
             for node in ast.walk(tree):
                 if isinstance(node, ast.FunctionDef) and node.name in forms:
-                    last = node.body[-1]
-                    self.assertIsInstance(last, ast.Return, f"L28 {path}:{node.lineno}")
-                    self.assertIsInstance(last.value, ast.Call, f"L28 {path}:{node.lineno}")
-                    self.assertIn(last.value.func.id, forms[node.name], f"L28 {path}:{node.lineno}")
+                    where = f"L28 {path}:{node.lineno}"
+                    self.assertIsInstance(node.body[-1], ast.Return, where)
+                    for part in ast.walk(node):
+                        if isinstance(part, ast.Return):
+                            self.assertTrue(ast.unparse(part.value).startswith(forms[node.name]), where)
                     if node.name == "__iter__":
                         self.assertEqual(len(node.body), 1, f"L5 {path}:{node.lineno}")
 
+    def test_what_changes_an_object_is_called_by_no_sign_but_one(self):
+        for path, tree in trees():
+            for node in ast.walk(tree):
+                if isinstance(node, ast.FunctionDef) and node.name != "__iadd__":
+                    called = {part.func.attr for part in ast.walk(node) if isinstance(part, ast.Call)
+                              and isinstance(part.func, ast.Attribute)}
+                    self.assertFalse(called & (CHANGING - {"__init__"}), f"L5 {path}:{node.lineno}")
+
     def test_nothing_is_changed_in_place(self):
         for path, tree in trees():
-            inits = [node for node in ast.walk(tree) if isinstance(node, ast.FunctionDef) and node.name == "__init__"]
-            allowed = {id(part) for init in inits for part in ast.walk(init)}
+            changing = [node for node in ast.walk(tree) if isinstance(node, ast.FunctionDef) and node.name in CHANGING]
+            allowed = {id(part) for method in changing for part in ast.walk(method)}
             for node in ast.walk(tree):
                 where = f"L5 {path}:{getattr(node, 'lineno', 0)}"
                 self.assertNotIsInstance(node, (ast.AugAssign, ast.Delete), where)
@@ -168,10 +179,14 @@ class Language(unittest.TestCase):
     def test_generators_are_used_at_once(self):
         yielding = {node.name for _, tree in trees() for node in ast.walk(tree) if isinstance(node, ast.FunctionDef)
                     and any(isinstance(part, ast.Yield) for part in ast.walk(node))}
+        # What stands in the head of a loop; the walk comes to a loop ahead of its head.
+        spent = set()
         for path, tree in trees():
             for node in ast.walk(tree):
-                if isinstance(node, ast.Name):
-                    self.assertNotIn(node.id, yielding, f"L23 {path}:{node.lineno}")
+                if isinstance(node, (ast.For, ast.comprehension)):
+                    spent |= {id(part) for part in ast.walk(node.iter)}
+                if isinstance(node, ast.Name) and node.id in yielding:
+                    self.assertIn(id(node), spent, f"L23 {path}:{node.lineno}")
                 if isinstance(node, ast.GeneratorExp):
                     self.fail(f"L7 {path}:{node.lineno}")
 

@@ -6,23 +6,9 @@ from itertools import product
 from forcedtables.rulechecker import is_rule, lets_rule
 from forcedtables.rules import (back, commutes_with, is_element, one_of, product_of, put_together, swap_of, to_the,
                                 turned_by)
-from tests.samples import (FOUR, MERSENNE, MIXED, S3, SIXTY_DIGITS, SMALL_RULES, all_of, any_values, outcome,
-                           plain_together, refused, written)
+from tests.samples import (FOUR, GREAT_RULES, HUGE, MERSENNE, MIXED, S3, SIX_ROWS, SIXTY_DIGITS, SMALL_RULES, all_of,
+                           any_values, outcome, plain_together, refused, written)
 
-TWO_ON = tuple(tuple(int((row + 2) % 6 == column) for column in range(6)) for row in range(6))
-SIX_ROWS = (("turn", 9973, TWO_ON, 3),)
-HUGE = (("ring", SIXTY_DIGITS), ("act", MERSENNE, 199 * 10 ** 57, 2), ("act", 1, SIXTY_DIGITS, 0),
-        ("act", SIXTY_DIGITS, 1, 1))
-GREAT_RULES = {
-    MIXED: [((1, 0, 1), ((1, 0), 1), 7), ((0, 1, 1), ((1, 0), 0), 6), ((1, 1, 0), ((0, 1), 2), 9)],
-    (("power", 9973, 6),): [((1, 2, 3, 4, 5, 6),), ((9972, 0, 9971, 5000, 1, 7),)],
-    (("knot", 9973),): [((1, 2, 3),), ((9972, 9970, 5),), ((0, 17, 9000),)],
-    SIX_ROWS: [(((1, 2, 3, 4, 5, 6), 1),), (((9972, 0, 7, 0, 9, 1), 2),), (((0, 0, 0, 0, 0, 1), 0),)],
-    HUGE: [(10 ** 58 + 3, (12345, 7), (0, 10 ** 57), (3, 0)), (5, (MERSENNE - 1, 198), (0, 0), (10 ** 58, 0)),
-           (SIXTY_DIGITS - 1, (2 ** 198 + 9, 1), (0, SIXTY_DIGITS - 1), (SIXTY_DIGITS - 1, 0))],
-    (("act", 5, 4, 2), ("knot", 3), ("power", 2, 2), FOUR): [
-        ((3, 3), (1, 2, 0), (1, 1), ((1, 0), 2)), ((1, 2), (2, 2, 1), (0, 1), ((0, 1), 1))],
-}
 SOME_TIMES = (SIXTY_DIGITS, 10 ** 60 - 1, -SIXTY_DIGITS, 10 ** 59, -(10 ** 60) + 1, 6 ** 70, 17, -17)
 
 

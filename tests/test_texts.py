@@ -10,9 +10,8 @@ from forcedtables.counttexts import count_text
 from forcedtables.rulereadings import rule_read
 from forcedtables.ruletexts import rule_text
 from tests.samples import (EVERY_PRIME, FORTY, FOUR, MERSENNE, MIXED, PRIME_TABLE, S3, SIX, SIXTY_DIGITS, SMALL_RULES,
-                           any_values, outcome, plain_moved, refused, some_counts, written)
+                           any_values, changed, missing, outcome, plain_moved, refused, some_counts, written)
 
-SIGNS = " 0123456789^,/|-+_.aT\n"
 SHIFT = tuple(tuple(int((row + 1) % 5 == column) for column in range(5)) for row in range(5))
 RULES = [*SMALL_RULES, MIXED, (("ring", SIXTY_DIGITS),), (("act", MERSENNE, 199, 2), ("ring", 10 ** 60 - 1)),
          (("power", 9973, 6), ("knot", 9973)), (("turn", 11, SHIFT, 5),), (("turn", 9973, ((9972,),), 2),),
@@ -20,11 +19,6 @@ RULES = [*SMALL_RULES, MIXED, (("ring", SIXTY_DIGITS),), (("act", MERSENNE, 199,
 COUNT_TEXTS = ["1", "2^1", "2^6", "9973^6", "2^3 5^1", "2^1 3^1", "3^2 5^1 7^6 101^3"]
 RULE_TEXTS = ["ring 1", "ring 6", "power 2 6", "knot 3", "turn 2 0,1/1,1 3", "turn 7 4 3", "act 7 3 2", "act 1 6 0",
               "ring 6 | knot 3", "turn 3 2,0/0,2 2 | act 5 4 2 | ring 10", "act 15 2 4 | power 3 1", "act 12 1 1"]
-
-
-def missing(field):
-    """The outcome of a call that raises InvalidText for a text of one line."""
-    return f"InvalidText 0x0 {hex(field)}"
 
 
 def number(word):
@@ -101,24 +95,6 @@ def wrong_field_of_rule(text):
         if words[at] != "|":
             return at
         at += 1
-
-
-def changed(text, more):
-    """The text with a sign or a word put in, left out or exchanged, at each place."""
-    for at in range(len(text) + 1):
-        yield text[:at]
-        yield text[:at] + text[at + 1:]
-        for sign in SIGNS:
-            yield text[:at] + sign + text[at:]
-            yield text[:at] + sign + text[at + 1:]
-    words = text.split(" ")
-    for at in range(len(words) + 1):
-        yield " ".join(words[:at])
-        yield " ".join(words[:at] + words[at + 1:])
-        yield " ".join(words[:at] + words[at:at + 2][::-1] + words[at + 2:])
-        for word in [*more, *words]:
-            yield " ".join(words[:at] + [word] + words[at:])
-            yield " ".join(words[:at] + [word] + words[at + 1:])
 
 
 class CountTexts(unittest.TestCase):
