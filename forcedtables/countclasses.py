@@ -2,7 +2,7 @@
 
 from forcedtables.countchanges import common, does_divide, joined, lifted, lowered, over, times, without_prime
 from forcedtables.countchecker import lets_count
-from forcedtables.countparts import count_of, power_of, primes_of, value_of
+from forcedtables.countparts import count_of, has_prime, power_of, primes_of, value_of
 from forcedtables.countreadings import count_read
 from forcedtables.counttexts import count_text
 from forcedtables.errors import NotUsable
@@ -35,7 +35,7 @@ class Count:
         return power_of(self._pairs, at)
 
     def __contains__(self, x):
-        return is_prime(x) and power_of(self._pairs, x) > 0
+        return has_prime(self._pairs, x)
 
     def __len__(self):
         return len(self._pairs)

@@ -2,7 +2,7 @@
 
 from forcedtables.countchecker import lets_count, need_count, need_prime
 from forcedtables.errors import NotUsable
-from forcedtables.kinds import MOST_POWER, PRIME_END, is_positive
+from forcedtables.kinds import MOST_POWER, PRIME_END, is_positive, is_prime
 from forcedtables.powering import raised
 
 
@@ -26,6 +26,11 @@ def power_of(count, prime):
         if own == prime:
             return power
     return 0
+
+
+def has_prime(count, thing):
+    """Tell whether any value is one of the primes of the count."""
+    return is_prime(thing) and power_of(count, thing) > 0
 
 
 def is_square_free(count):

@@ -4,11 +4,14 @@ Every function here takes any value. True and False are ints of Python, but no
 integers here, so each number is asked for its kind before it is compared.
 """
 
+from forcedtables.errors import NotUsable
+
 PRIME_END = 10000
 MOST_POWER = 6
 LETTERS = "abcdefghijklmnopqrstuvwxyz"
 LONGEST_NAME = 8
 HOLDS = ("off", "cyclic", "commute", "split")
+KINDS = ("cyclic", "commute", "split")
 
 
 def is_integer(thing):
@@ -134,6 +137,17 @@ def is_name(thing):
 def is_hold(thing):
     """Tell whether any value is a word that a live number can hold."""
     return isinstance(thing, str) and thing in HOLDS
+
+
+def is_kind(thing):
+    """Tell whether any value is the word of a kind of groups."""
+    return isinstance(thing, str) and thing in KINDS
+
+
+def need_kind(name, thing):
+    """Raise NotUsable with the name of the parameter for any value that is no kind."""
+    if not is_kind(thing):
+        raise NotUsable(name, -1)
 
 
 def is_event(thing):

@@ -209,6 +209,20 @@ def outcome(call, *args, **more):
         return f"NothingToUndo {written(error.steps)}"
 
 
+def told_of(kind, field, call, *args):
+    """What a property tells of the object of just this class that a call returns, or its error, as a text."""
+    kept = []
+
+    def called():
+        kept.append(call(*args))
+        return getattr(kept[0], field)
+
+    result = outcome(called)
+    if kept and type(kept[0]) is not kind:
+        return f"of the class {type(kept[0]).__name__}"
+    return result
+
+
 def refused(name, at=-1):
     """The outcome of a call that raises NotUsable."""
     return f"NotUsable {name} {written(at)}"
@@ -240,3 +254,18 @@ def changed(text, more):
         for word in [*more, *words]:
             yield " ".join(words[:at] + [word] + words[at:])
             yield " ".join(words[:at] + [word] + words[at + 1:])
+
+
+def bent(thing):
+    """A value with one change anywhere in it: a part exchanged, left out, put in twice, or a list for a tuple."""
+    yield from (None, True, False, [], (), "", "all", -1, 0, 1, 2)
+    if is_real(thing):
+        yield from (thing + 1, thing - 1, -thing, str(thing), (thing,))
+    if isinstance(thing, tuple):
+        yield list(thing)
+        for at, part in enumerate(thing):
+            yield thing[:at] + thing[at + 1:]
+            yield thing[:at + 1] + thing[at:]
+            yield thing[:at] + thing[at:at + 2][::-1] + thing[at + 2:]
+            for other in bent(part):
+                yield thing[:at] + (other,) + thing[at + 1:]

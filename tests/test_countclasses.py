@@ -13,7 +13,7 @@ from forcedtables.countreadings import count_read
 from forcedtables.counttexts import count_text
 from forcedtables.errors import GroupError
 from tests.samples import (EVERY_PRIME, FIFTEEN, FORTY, PRIMES, SIX, THIRTY, any_values, is_real, is_real_count,
-                           is_real_prime, outcome, plain_count, plain_value, refused, some_counts, written)
+                           is_real_prime, outcome, plain_count, plain_value, refused, some_counts, told_of, written)
 
 COUNTS = some_counts()
 FLAT = [count for count in COUNTS if {power for _, power in count} <= {1}]
@@ -27,16 +27,7 @@ class Derived(Count):
 
 def count_of_it(call, *args):
     """The count of the Count that a call returns, or its error, as a text."""
-    kept = []
-
-    def called():
-        kept.append(call(*args))
-        return kept[0].count_now
-
-    result = outcome(called)
-    if kept and type(kept[0]) is not Count:
-        return f"of the class {type(kept[0]).__name__}"
-    return result
+    return told_of(Count, "count_now", call, *args)
 
 
 class Made(unittest.TestCase):

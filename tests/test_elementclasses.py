@@ -11,7 +11,7 @@ from forcedtables.errors import GroupError
 from forcedtables.orders import order_of
 from forcedtables.rules import back, one_of, put_together, to_the, turned_by
 from tests.samples import (FOUR, GREAT_RULES, HUGE, MIXED, S3, SIXTY_DIGITS, SMALL_RULES, all_of, any_values, is_real,
-                           outcome, plain_parts, plain_together, refused, written)
+                           outcome, plain_parts, plain_together, refused, told_of, written)
 
 A, B = ((1, 0),), ((0, 1),)
 SOME = ((1, 1, 0), ((1, 0), 1), 4)
@@ -25,16 +25,7 @@ class Derived(Element):
 
 def value_of_it(call, *args):
     """The value of the Element that a call returns, or its error, as a text."""
-    kept = []
-
-    def called():
-        kept.append(call(*args))
-        return kept[0].value_now
-
-    result = outcome(called)
-    if kept and type(kept[0]) is not Element:
-        return f"of the class {type(kept[0]).__name__}"
-    return result
+    return told_of(Element, "value_now", call, *args)
 
 
 def times_of(one, other):

@@ -136,6 +136,64 @@ PICTURES = """
     raises InvalidText(line=0, field=1)
 """
 
+FORCED = """
+    >>> from forcedtables.forced import acts_at, all_commute, all_cyclic, all_split, forced_between, kinds_forced, reasons_against
+    >>> EIGHT, TWELVE, FORTYFIVE = ((2, 3),), ((2, 2), (3, 1)), ((3, 2), (5, 1))
+    >>> [all_cyclic(FIFTEEN), all_cyclic(FORTYFIVE), all_commute(FORTYFIVE), all_commute(EIGHT), all_split(EIGHT), all_split(TWELVE), all_cyclic(())]
+    [True, False, True, False, True, False, True]
+    >>> [kinds_forced(count) for count in (FIFTEEN, FORTYFIVE, EIGHT, SIX)]
+    [('cyclic', 'commute', 'split'), ('commute', 'split'), ('split',), ()]
+    >>> all_cyclic(((4, 1),))
+    raises NotUsable(word='count', at=-1)
+    >>> [acts_at(TWELVE, 3, 2), acts_at(TWELVE, 2, 3), acts_at(SIX, 3, 2), acts_at(FORTYFIVE, 5, 3)]
+    [2, 1, None, None]
+    >>> [reasons_against(TWELVE, 'commute'), reasons_against(FORTYFIVE, 'cyclic'), reasons_against(EIGHT, 'commute')]
+    [(('act', 2, 3, 1), ('act', 3, 2, 2)), (('power', 3, 2),), (('power', 2, 3),)]
+    >>> acts_at(SIX, 2, 2)
+    raises NotUsable(word='other', at=-1)
+    >>> [forced_between(1, 20, 'cyclic'), forced_between(4, 12, 'commute'), forced_between(8, 6, 'split'), forced_between(128, 130, 'split')]
+    [(1, 2, 3, 5, 7, 11, 13, 15, 17, 19), (4, 5, 7, 9, 11), (), ()]
+"""
+
+OTHERWISE = """
+    >>> from forcedtables.judging import does_commute, does_split, is_cyclic, shown_against
+    >>> from forcedtables.otherwise import not_commuting, not_cyclic, not_split, piece_of_act
+    >>> [is_cyclic(not_cyclic(FORTYFIVE)), does_commute(not_commuting(EIGHT)), does_split(not_split(TWELVE)), not_cyclic(FIFTEEN), not_commuting(FORTYFIVE)]
+    [False, False, False, None, None]
+    >>> [piece_of_act(SIX, 2, 3), piece_of_act(TWELVE, 3, 2)[::3], piece_of_act(SIX, 3, 2)]
+    [('act', 3, 2, 2), ('turn', 3), None]
+"""
+
+JUDGING = """
+    >>> FOURFOLD, KNOT, DIHEDRAL = (('ring', 2), ('ring', 2)), (('knot', 2),), (('act', 3, 2, 2),)
+    >>> [[is_cyclic(rule), does_commute(rule), does_split(rule)] for rule in ((('ring', 6),), FOURFOLD, KNOT, DIHEDRAL, (('act', 5, 2, 1), ('ring', 7)))]
+    [[True, True, True], [False, True, True], [False, False, True], [False, False, False], [True, True, True]]
+    >>> from forcedtables.shownchecker import lets_shown
+    >>> [shown_against((('ring', 15),), 'cyclic'), shown_against(KNOT, 'split'), lets_shown(KNOT, 'cyclic', shown_against(KNOT, 'cyclic'))]
+    [None, None, True]
+"""
+
+PAPERS = """
+    >>> A, B = ((1, 0),), ((0, 1),)
+    >>> [lets_shown(DIHEDRAL, 'commute', ('apart', A, B)), lets_shown(DIHEDRAL, 'split', ('torn', A, B, 3, 2)), lets_shown(FOURFOLD, 'cyclic', ('twins', (1, 0), (0, 1), 2))]
+    [True, True, True]
+    >>> lets_shown((('ring', 6),), 'cyclic', ('twins', (2,), (4,), 3))
+    raises InvalidPaper(word='among', at=2)
+    >>> from forcedtables.forcedchecker import lets_forced
+    >>> from forcedtables.forcedpapers import forced_paper
+    >>> [forced_paper(FORTYFIVE, 'commute'), lets_forced(FIFTEEN, 'cyclic', ('all', ((2,), (3,)))), lets_forced(SIX, 'split', ('otherwise', DIHEDRAL, ('torn', A, B, 3, 2)))]
+    [('all', ((2,), (3, 4))), True, False]
+    >>> lets_forced(SIX, 'cyclic', ('all', ((1,), (2,))))
+    raises InvalidPaper(word='one', at=(0, 0))
+"""
+
+FORCED_CLASSES = """
+    >>> from forcedtables.forcedclasses import Forced
+    >>> one = Forced(FIFTEEN)
+    >>> [one['cyclic'], one('split'), len(one), str(one), str(one * Forced(((3, 1),))), (one * Forced(((2, 1),))).of_count, str(Forced(SIX)), ('act', 2, 3, 1) in Forced(SIX)]
+    [True, None, 3, 'cyclic commute split', 'commute split', ((2, 1), (3, 1), (5, 1)), '-', True]
+"""
+
 
 def told(line, names):
     """What the document prints below a line."""
@@ -179,6 +237,9 @@ class Examples(unittest.TestCase):
     def test_elements_by_numbers_as_objects_and_in_pictures(self):
         self.follow(COUNTS, RULES, ORDERS, PLACING, ELEMENTS, PICTURES)
 
+    def test_what_a_count_forces(self):
+        self.follow(COUNTS, FORCED, OTHERWISE, JUDGING, PAPERS, FORCED_CLASSES)
+
     def test_what_is_said_below_them(self):
         self.follow(RULES, ORDERS, """
             >>> [put_together(S3, B, A), 0 + 2 * 1, 1 + 0]
@@ -193,4 +254,14 @@ class Examples(unittest.TestCase):
         self.follow("""
             >>> [2 ** 3 % 7, 3 ** 3 % 7 == 1]
             [1, False]
+        """)
+
+    def test_what_is_said_below_what_a_count_forces(self):
+        self.follow(COUNTS, FORCED, JUDGING.split("    >>> [[")[0], """
+            >>> from forcedtables.rules import put_together
+            >>> A, B = ((1, 0),), ((0, 1),)
+            >>> [put_together(DIHEDRAL, A, B), put_together(DIHEDRAL, B, A)]
+            [((1, 1),), ((2, 1),)]
+            >>> [3 % 5, 9 % 5, 5 % 3, (2 ** 2 - 1) % 3, 2 ** 7, 3 * 43, 42 % 3]
+            [3, 4, 2, 0, 128, 129, 0]
         """)

@@ -6,7 +6,7 @@ import inspect
 import unittest
 
 from forcedtables.rulechecker import is_rule
-from tests.samples import (FORTY, FOUR, MIXED, S3, SIX, THIRTY, all_of, any_values, faulty, is_real, is_real_count,
+from tests.samples import (EVERY_PRIME, FIFTEEN, FORTY, FOUR, MIXED, S3, SIX, THIRTY, all_of, any_values, faulty, is_real, is_real_count,
                            is_real_prime, outcome, refused, written)
 
 A, B = ((1, 0),), ((0, 1),)
@@ -64,7 +64,27 @@ FUNCTIONS = [
     ("pictures", "table_of", {"rule": S3, "parts": (A, B)}, (tuple,)),
     ("pictures", "picture", {"rule": S3, "parts": (A, B)}, (list,)),
     ("pictures", "story", {"rule": S3, "parts": (A, B)}, (str,)),
+    ("forced", "all_cyclic", {"count": FORTY}, (bool,)),
+    ("forced", "all_commute", {"count": FORTY}, (bool,)),
+    ("forced", "all_split", {"count": FORTY}, (bool,)),
+    ("forced", "kinds_forced", {"count": FORTY}, (tuple,)),
+    ("forced", "acts_at", {"count": SIX, "prime": 2, "other": 3}, (int, type(None))),
+    ("forced", "reasons_against", {"count": SIX, "kind": "split"}, (tuple,)),
+    ("forced", "forced_between", {"first": 4, "last": 12, "kind": "commute"}, (tuple,)),
+    ("otherwise", "piece_of_act", {"count": SIX, "prime": 2, "other": 3}, (tuple, type(None))),
+    ("otherwise", "not_cyclic", {"count": FORTY}, (tuple, type(None))),
+    ("otherwise", "not_commuting", {"count": FORTY}, (tuple, type(None))),
+    ("otherwise", "not_split", {"count": FORTY}, (tuple, type(None))),
+    ("judging", "is_cyclic", {"rule": S3}, (bool,)),
+    ("judging", "does_commute", {"rule": S3}, (bool,)),
+    ("judging", "does_split", {"rule": S3}, (bool,)),
+    ("judging", "shown_against", {"rule": S3, "kind": "split"}, (tuple, type(None))),
+    ("shownchecker", "lets_shown", {"rule": S3, "kind": "commute", "thing": ("apart", A, B)}, (bool,)),
+    ("forcedpapers", "forced_paper", {"count": SIX, "kind": "split"}, (tuple,)),
+    ("forcedchecker", "lets_forced", {"count": FIFTEEN, "kind": "split", "thing": ("all", ((2,), (3,)))}, (bool,)),
 ]
+# Stages 9 to 12 go through pairs of primes: their counts stay within the limits.
+WITHIN_LIMITS = ("forced", "otherwise", "forcedpapers", "forcedchecker")
 
 
 def is_part_of_s3(thing):
@@ -80,6 +100,9 @@ STATED = {
     "rule": is_rule,
     "element": is_part_of_s3,
     "times": is_real,
+    "kind": lambda thing: type(thing) is str and thing in ("cyclic", "commute", "split"),
+    "first": lambda thing: is_real(thing) and 1 <= thing <= 9999,
+    "last": lambda thing: is_real(thing) and 1 <= thing < 204,
     "parts": lambda thing: type(thing) is tuple and all(is_part_of_s3(part) for part in thing),
 }
 # What it has to be in one module.
@@ -87,6 +110,10 @@ STATED_THERE = {
     ("rules", "other"): is_part_of_s3,
     ("countchanges", "other"): is_real_count,
     ("placing", "number"): lambda thing: is_real(thing) and 0 <= thing < 6,
+    ("forced", "prime"): lambda thing: is_real(thing) and thing in (2, 3),
+    ("forced", "other"): lambda thing: is_real(thing) and thing == 3,
+    ("otherwise", "prime"): lambda thing: is_real(thing) and thing in (2, 3),
+    ("otherwise", "other"): lambda thing: is_real(thing) and thing == 3,
 }
 
 
@@ -141,7 +168,8 @@ class AnyValues(unittest.TestCase):
         for module, name, args, kinds in FUNCTIONS:
             for parameter in args:
                 for thing in any_values():
-                    self.try_one(module, name, {**args, parameter: thing}, parameter, kinds)
+                    if module not in WITHIN_LIMITS or thing != EVERY_PRIME:
+                        self.try_one(module, name, {**args, parameter: thing}, parameter, kinds)
 
     def try_one(self, module, name, args, parameter, kinds):
         """One value at one parameter, the others being as stated."""
@@ -156,7 +184,7 @@ class AnyValues(unittest.TestCase):
         if stated is not None and name != "is_choice":
             if not stated(args[parameter]):
                 self.assertEqual(result, refused(parameter), (name, before))
-            elif len(args) == 1 or parameter in ("element", "times", "parts"):
+            elif len(args) == 1 or parameter in ("element", "times", "parts", "kind", "last"):
                 self.assertIn(type(called(**args)), kinds, name)
 
     def test_the_first_parameter_that_is_not_as_stated_is_named(self):

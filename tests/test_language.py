@@ -109,6 +109,18 @@ class Language(unittest.TestCase):
                 if isinstance(node, (ast.FunctionDef, ast.ClassDef)):
                     self.assertNotIn(node.name, BARRED, f"L17 {path}:{node.lineno}")
 
+    def test_no_name_of_an_import_or_a_class_is_taken(self):
+        for path, tree in trees():
+            imported = {alias.name for node in tree.body if isinstance(node, ast.ImportFrom) for alias in node.names}
+            taken = imported | {node.name for node in tree.body if isinstance(node, ast.ClassDef)}
+            used = {node.id for node in ast.walk(tree) if isinstance(node, ast.Name)}
+            self.assertLessEqual(imported, used, f"{path} imports what it does not use")
+            for node in ast.walk(tree):
+                if isinstance(node, ast.arg):
+                    self.assertNotIn(node.arg, taken, f"L15 {path}:{node.lineno}")
+                if isinstance(node, ast.Name) and isinstance(node.ctx, ast.Store):
+                    self.assertNotIn(node.id, taken, f"L15 {path}:{node.lineno}")
+
     def test_expressions(self):
         for path, tree in trees():
             for node in ast.walk(tree):
