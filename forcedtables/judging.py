@@ -9,6 +9,7 @@ from forcedtables.rules import closed, twist_of, with_part
 
 def is_cyclic(rule):
     """Tell whether the group of the rule is cyclic."""
+    # Where all elements commute, one of them has the span of the rule as its order.
     return does_commute(rule) and span_of(rule) == order_of_rule(rule)
 
 
