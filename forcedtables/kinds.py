@@ -88,38 +88,56 @@ def is_count(thing):
     return count_fault(thing) is None
 
 
+def is_free(thing):
+    """Tell whether any value is a square-free count."""
+    return is_count(thing) and all([pair[1] == 1 for pair in thing])
+
+
+def choice_fault(count, thing):
+    """Return word and place of the first thing that is wrong with a choice of a square-free count, or None."""
+    if not isinstance(thing, tuple):
+        return ("shape", -1)
+    primes = [pair[0] for pair in count]
+    before = 0
+    for at, pair in enumerate(thing):
+        if not is_acting(pair, primes):
+            return ("pair", at)
+        if pair[0] <= before:
+            return ("order", at)
+        before = pair[0]
+    acting = [pair[0] for pair in thing]
+    resting = [prime for prime in primes if prime not in acting]
+    for at, pair in enumerate(thing):
+        fault = row_fault(pair, resting, at)
+        if fault is not None:
+            return fault
+    return None
+
+
 def is_choice(count, thing):
     """Tell whether any values are a square-free count and a choice of it."""
-    if not is_count(count) or not all([pair[1] == 1 for pair in count]):
-        return False
-    primes = [pair[0] for pair in count]
-    if not isinstance(thing, tuple) or not all([is_acting(pair, primes) for pair in thing]):
-        return False
-    acting = [pair[0] for pair in thing]
-    if not is_rising(acting):
-        return False
-    resting = [prime for prime in primes if prime not in acting]
-    return all([is_row(row, prime, resting) for prime, row in thing])
+    return is_free(count) and choice_fault(count, thing) is None
 
 
 def is_acting(thing, primes):
-    """Tell whether any value is a pair that begins with one of these primes."""
-    return is_pair(thing) and is_prime(thing[0]) and thing[0] in primes
+    """Tell whether any value is a pair of one of these primes and a tuple."""
+    return is_pair(thing) and is_prime(thing[0]) and thing[0] in primes and isinstance(thing[1], tuple)
 
 
-def is_rising(numbers):
-    """Tell whether each number is greater than the one before."""
-    return all([numbers[at - 1] < numbers[at] for at in range(1, len(numbers))])
-
-
-def is_row(thing, prime, resting):
-    """Tell whether any value is the row of an acting prime for these primes at rest."""
-    if not isinstance(thing, tuple) or len(thing) != len(resting):
-        return False
-    if not all([can_act(number, prime, other) for number, other in zip(thing, resting)]):
-        return False
-    acts = [number for number in thing if number != 0]
-    return len(acts) > 0 and acts[0] == 1
+def row_fault(pair, resting, at):
+    """Return word and place of what is wrong with the row of an acting prime, this index being its own, or None."""
+    prime, row = pair
+    if len(row) != len(resting):
+        return ("row", at)
+    for place, number in enumerate(row):
+        if not can_act(number, prime, resting[place]):
+            return ("number", (at, place))
+    acts = [number for number in row if number != 0]
+    if len(acts) == 0:
+        return ("nought", at)
+    if acts[0] != 1:
+        return ("first", at)
+    return None
 
 
 def can_act(thing, prime, other):

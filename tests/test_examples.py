@@ -194,6 +194,62 @@ FORCED_CLASSES = """
     [True, None, 3, 'cyclic commute split', 'commute split', ((2, 1), (3, 1), (5, 1)), '-', True]
 """
 
+CHOICES = """
+    >>> from forcedtables.choicechecker import lets_choice
+    >>> from forcedtables.choices import at_rest, choices_of, group_of, how_many_groups, root_of
+    >>> [choices_of(SIX), choices_of(THIRTY), how_many_groups(FIFTEEN), how_many_groups(((2, 1), (3, 1), (5, 1), (7, 1)))]
+    [((), ((2, (1,)),)), ((), ((2, (0, 1)),), ((2, (1, 0)),), ((2, (1, 1)),)), 1, 12]
+    >>> [root_of(2, 5), root_of(3, 7), root_of(5, 11), at_rest(THIRTY, ((2, (1, 1)),))]
+    [4, 2, 3, (3, 5)]
+    >>> [group_of(SIX, ()), group_of(SIX, ((2, (1,)),)), group_of(THIRTY, ((2, (1, 1)),))]
+    [(('act', 6, 1, 1),), (('act', 3, 2, 2),), (('act', 15, 2, 14),)]
+    >>> THREES = ((3, 1), (7, 1), (13, 1))
+    >>> [how_many_groups(THREES), group_of(THREES, ((3, (1, 1)),)), group_of(THREES, ((3, (1, 2)),))]
+    [5, (('act', 91, 3, 16),), (('act', 91, 3, 9),)]
+    >>> lets_choice(THIRTY, ((2, (1, 1)), (3, (1,))))
+    raises InvalidPaper(word='row', at=0)
+    >>> lets_choice(THIRTY, ((3, (0, 1)),))
+    raises InvalidPaper(word='number', at=(0, 1))
+    >>> lets_choice(THREES, ((3, (2, 1)),))
+    raises InvalidPaper(word='first', at=0)
+"""
+
+ORDER_LOOKS = """
+    >>> from forcedtables.orderlooks import central_in, many_of_order, orders_in
+    >>> [orders_in(SIX, ((2, (1,)),)), orders_in(THIRTY, ((2, (1, 0)),))]
+    [((1, 1), (2, 3), (3, 2)), ((1, 1), (2, 3), (3, 2), (5, 4), (10, 12), (15, 8))]
+    >>> [many_of_order(THREES, ((3, (1, 2)),), order) for order in (3, 21)]
+    [182, 0]
+    >>> [many_of_order(THREES, ((3, (0, 1)),), 21), central_in(THIRTY, ((2, (1, 0)),)), central_in(THIRTY, ())]
+    [156, 5, 30]
+    >>> orders_in(THREES, ((3, (1, 1)),)) == orders_in(THREES, ((3, (1, 2)),))
+    True
+"""
+
+LEADING = """
+    >>> from forcedtables.leading import are_alike, choice_of
+    >>> [choice_of((("ring", 2), ("ring", 5))), choice_of((("ring", 5), ("act", 3, 2, 2)))]
+    [(((2, 1), (5, 1)), ()), (((2, 1), (3, 1), (5, 1)), ((2, (1, 0)),))]
+    >>> [choice_of((("turn", 7, ((4,),), 3),))[1], choice_of((("act", 91, 3, 81),))[1], choice_of((("act", 5, 6, 4),))[1]]
+    [((3, (1,)),), ((3, (1, 2)),), ((2, (0, 1)),)]
+    >>> [are_alike((("act", 91, 3, 16),), (("act", 91, 3, late),)) for late in (9, 74)]
+    [False, True]
+    >>> choice_of((("power", 5, 2),))
+    raises NotUsable(word='rule', at=-1)
+"""
+
+LIKE = """
+    >>> from forcedtables.likechecker import lets_alike, lets_like
+    >>> from forcedtables.likepapers import alike_paper, like_paper
+    >>> MIXED = (("ring", 5), ("act", 3, 2, 2))
+    >>> lets_like(MIXED, (THIRTY, ((2, (1, 0)),), (1, (1, 0)), (0, (0, 1))))
+    (((2, 1), (3, 1), (5, 1)), ((2, (1, 0)),))
+    >>> [lets_like(MIXED, like_paper(MIXED))[1], lets_alike(MIXED, (("ring", 30),), alike_paper(MIXED, (("ring", 30),)))]
+    [((2, (1, 0)),), False]
+    >>> lets_like(MIXED, (THIRTY, ((2, (1, 0)),), (0, (1, 0)), (0, (0, 1))))
+    raises InvalidPaper(word='rest', at=1)
+"""
+
 
 def told(line, names):
     """What the document prints below a line."""
@@ -240,6 +296,9 @@ class Examples(unittest.TestCase):
     def test_what_a_count_forces(self):
         self.follow(COUNTS, FORCED, OTHERWISE, JUDGING, PAPERS, FORCED_CLASSES)
 
+    def test_choices_and_rules_led_to_them(self):
+        self.follow(COUNTS, CHOICES, ORDER_LOOKS, LEADING, LIKE)
+
     def test_what_is_said_below_them(self):
         self.follow(RULES, ORDERS, """
             >>> [put_together(S3, B, A), 0 + 2 * 1, 1 + 0]
@@ -264,4 +323,13 @@ class Examples(unittest.TestCase):
             [((1, 1),), ((2, 1),)]
             >>> [3 % 5, 9 % 5, 5 % 3, (2 ** 2 - 1) % 3, 2 ** 7, 3 * 43, 42 % 3]
             [3, 4, 2, 0, 128, 129, 0]
+        """)
+
+    def test_what_is_said_below_choices(self):
+        self.follow("""
+            >>> from forcedtables.choices import root_of
+            >>> [root_of(3, 7), root_of(3, 13), 16 % 7, 16 % 13, 9 % 7, 9 % 13, 3 * 3]
+            [2, 3, 2, 3, 2, 9, 9]
+            >>> [81 % 7 == 2 * 2, 81 % 13, tuple(2 * number % 3 for number in (2, 1))]
+            [True, 3, (1, 2)]
         """)

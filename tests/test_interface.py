@@ -6,10 +6,12 @@ import inspect
 import unittest
 
 from forcedtables.rulechecker import is_rule
-from tests.samples import (EVERY_PRIME, FIFTEEN, FORTY, FOUR, MIXED, S3, SIX, THIRTY, all_of, any_values, faulty, is_real, is_real_count,
-                           is_real_prime, outcome, refused, written)
+from tests.choicesamples import is_free_rule, is_real_free
+from tests.samples import (EVERY_PRIME, FIFTEEN, FORTY, FOUR, MIXED, S3, SIX, THIRTY, all_of, any_values, faulty,
+                           is_real, is_real_count, is_real_prime, outcome, refused, written)
 
 A, B = ((1, 0),), ((0, 1),)
+CHOICE = ((2, (1,)),)
 GENERATOR = type(part for part in ())
 
 # Module, function, its parameters with a value that can be used, the kinds of its results.
@@ -82,6 +84,21 @@ FUNCTIONS = [
     ("shownchecker", "lets_shown", {"rule": S3, "kind": "commute", "thing": ("apart", A, B)}, (bool,)),
     ("forcedpapers", "forced_paper", {"count": SIX, "kind": "split"}, (tuple,)),
     ("forcedchecker", "lets_forced", {"count": FIFTEEN, "kind": "split", "thing": ("all", ((2,), (3,)))}, (bool,)),
+    ("choicechecker", "lets_choice", {"count": SIX, "thing": CHOICE}, (int,)),
+    ("choices", "root_of", {"prime": 2, "other": 5}, (int,)),
+    ("choices", "at_rest", {"count": SIX, "choice": CHOICE}, (tuple,)),
+    ("choices", "how_many_groups", {"count": SIX}, (int,)),
+    ("choices", "choices_of", {"count": SIX}, (tuple,)),
+    ("choices", "group_of", {"count": SIX, "choice": CHOICE}, (tuple,)),
+    ("orderlooks", "orders_in", {"count": SIX, "choice": CHOICE}, (tuple,)),
+    ("orderlooks", "many_of_order", {"count": SIX, "choice": CHOICE, "order": 2}, (int,)),
+    ("orderlooks", "central_in", {"count": SIX, "choice": CHOICE}, (int,)),
+    ("leading", "choice_of", {"rule": S3}, (tuple,)),
+    ("leading", "are_alike", {"rule": S3, "other": (("ring", 6),)}, (bool,)),
+    ("likepapers", "like_paper", {"rule": S3}, (tuple,)),
+    ("likepapers", "alike_paper", {"rule": S3, "other": (("ring", 6),)}, (tuple,)),
+    ("likechecker", "lets_like", {"rule": S3, "thing": (SIX, CHOICE, A, B)}, (tuple,)),
+    ("likechecker", "lets_alike", {"rule": S3, "other": S3, "thing": ((SIX, CHOICE, A, B),) * 2}, (bool,)),
 ]
 # Stages 9 to 12 go through pairs of primes: their counts stay within the limits.
 WITHIN_LIMITS = ("forced", "otherwise", "forcedpapers", "forcedchecker")
@@ -104,6 +121,8 @@ STATED = {
     "first": lambda thing: is_real(thing) and 1 <= thing <= 9999,
     "last": lambda thing: is_real(thing) and 1 <= thing < 204,
     "parts": lambda thing: type(thing) is tuple and all(is_part_of_s3(part) for part in thing),
+    "choice": lambda thing: written(thing) in (written(()), written(CHOICE)),
+    "order": lambda thing: is_real(thing) and thing >= 1,
 }
 # What it has to be in one module.
 STATED_THERE = {
@@ -114,6 +133,16 @@ STATED_THERE = {
     ("forced", "other"): lambda thing: is_real(thing) and thing == 3,
     ("otherwise", "prime"): lambda thing: is_real(thing) and thing in (2, 3),
     ("otherwise", "other"): lambda thing: is_real(thing) and thing == 3,
+    ("choicechecker", "count"): is_real_free,
+    ("choices", "count"): is_real_free,
+    ("choices", "other"): lambda thing: is_real_prime(thing) and thing > 2,
+    ("orderlooks", "count"): is_real_free,
+    ("leading", "rule"): is_free_rule,
+    ("leading", "other"): is_free_rule,
+    ("likepapers", "rule"): is_free_rule,
+    ("likepapers", "other"): is_free_rule,
+    ("likechecker", "rule"): is_free_rule,
+    ("likechecker", "other"): is_free_rule,
 }
 
 
@@ -184,7 +213,7 @@ class AnyValues(unittest.TestCase):
         if stated is not None and name != "is_choice":
             if not stated(args[parameter]):
                 self.assertEqual(result, refused(parameter), (name, before))
-            elif len(args) == 1 or parameter in ("element", "times", "parts", "kind", "last"):
+            elif len(args) == 1 or parameter in ("element", "times", "parts", "kind", "last", "choice", "order"):
                 self.assertIn(type(called(**args)), kinds, name)
 
     def test_the_first_parameter_that_is_not_as_stated_is_named(self):
