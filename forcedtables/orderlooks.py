@@ -13,7 +13,8 @@ def orders_in(count, choice):
     orders = [1]
     for prime in primes_of(count):
         orders = orders + [order * prime for order in orders]
-    pairs = [(order, many_with(count, choice, order)) for order in sorted(orders)]
+    resting = at_rest(count, choice)
+    pairs = [(order, many_with(choice, resting, order)) for order in sorted(orders)]
     return tuple([(order, many) for order, many in pairs if many > 0])
 
 
@@ -24,7 +25,7 @@ def many_of_order(count, choice, order):
         raise NotUsable("order", -1)
     if value_of(count) % order != 0:
         return 0
-    return many_with(count, choice, order)
+    return many_with(choice, at_rest(count, choice), order)
 
 
 def central_in(count, choice):
@@ -33,11 +34,11 @@ def central_in(count, choice):
     return multiplied([prime for at, prime in enumerate(resting) if not is_moved(choice, at)])
 
 
-def many_with(count, choice, order):
-    """Give how many elements have this order, a divisor of the value."""
+def many_with(choice, resting, order):
+    """Give how many elements have this order, a divisor of the value, of a choice with these primes at rest."""
     turning = [(prime, row) for prime, row in choice if order % prime == 0]
     many = multiplied([prime - 1 for prime, row in turning])
-    for at, prime in enumerate(at_rest(count, choice)):
+    for at, prime in enumerate(resting):
         many = many * many_at(prime, is_moved(turning, at), order % prime == 0)
     return many
 

@@ -3,7 +3,7 @@
 from inspect import isgenerator
 from itertools import combinations, product
 
-from forcedtables.errors import InvalidPaper, InvalidText, NothingToUndo, NotUsable
+from forcedtables.errors import InvalidEvent, InvalidPaper, InvalidRow, InvalidText, NothingToUndo, NotUsable
 
 SIX = ((2, 1), (3, 1))
 FIFTEEN = ((3, 1), (5, 1))
@@ -207,6 +207,10 @@ def outcome(call, *args, **more):
         return f"InvalidText {written(error.line)} {written(error.field)}"
     except NothingToUndo as error:
         return f"NothingToUndo {written(error.steps)}"
+    except InvalidEvent as error:
+        return f"InvalidEvent {written(error.event)} {error.reason}"
+    except InvalidRow as error:
+        return f"InvalidRow {written(error.row)}"
 
 
 def told_of(kind, field, call, *args):

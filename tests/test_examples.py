@@ -250,6 +250,56 @@ LIKE = """
     raises InvalidPaper(word='rest', at=1)
 """
 
+GROUPS = """
+    >>> from forcedtables.groupclasses import Group
+    >>> from forcedtables.stretches import groups_between, numbers_with
+    >>> [groups_between(1, 11), numbers_with(4, 1, 100), numbers_with(2, 30, 39)]
+    [((1, 1), (2, 1), (3, 1), (5, 1), (6, 2), (7, 1), (10, 2)), (30, 66, 70), (34, 38)]
+    >>> one = Group(SIX, ((2, (1,)),))
+    >>> [list(one), one[2], 6 in one, len(one), one.rule_now, one == Group.of((("turn", 3, ((2,),), 2),))]
+    [[1, 2, 3], 3, False, 3, (('act', 3, 2, 2),), True]
+    >>> late = one * Group(((5, 1),), ())
+    >>> [late.choice_now, late[10], late == Group.of(MIXED)]
+    [((2, (1, 0)),), 12, True]
+    >>> one * one
+    raises NotUsable(word='other', at=-1)
+"""
+
+LIVES = """
+    >>> from forcedtables.lives import Live
+    >>> live = Live(())
+    >>> [live.put(3), live.put(5), live.value_now, live.groups(), live.put(2), live.words(), live.clashes(), live.groups()]
+    [((), ()), ((), ()), 15, 1, ((), ('commute', 'cyclic', 'split')), (), ((3, 2), (5, 2)), 4]
+    >>> [live.drop(2), live.put(3), live.count_now, live.groups(), live.fits('split', 20), live.fits('cyclic', 20)]
+    [(('commute', 'cyclic', 'split'), ()), ((), ('cyclic',)), ((3, 2), (5, 1)), None, (17,), ()]
+"""
+
+EVENTS_BARRED = """
+    >>> live = Live(FIFTEEN, hold='cyclic')
+    >>> [live.do_all(('note', 'm'), ('prime', 17)), live.barred(('prime', 3)), live.barred(('drop', 2)), live.set_hold('off'), live.put(2)]
+    [2, 'held', 'absent', None, ((), ('commute', 'cyclic', 'split'))]
+    >>> [live.table(), live.since('m'), live.count_then('m'), live.barred(('hold', 'split')), live[2], list(live), live.tally()]
+    [['2 1 -', '3 1 2', '5 1 2', '17 1 2'], ((), ('commute', 'cyclic', 'split')), ((3, 1), (5, 1)), 'false', 1, [2, 3, 5, 17], (3, 3)]
+"""
+
+LINES = """
+    >>> from forcedtables.eventreadings import read_event, read_log
+    >>> from forcedtables.eventtexts import event_line, log_lines
+    >>> [event_line(('prime', 101)), read_event('hold split'), log_lines((('live', FIFTEEN, 'cyclic'), ('drop', 5))), log_lines(Live(()).log())]
+    ['prime 101', ('hold', 'split'), ['live cyclic 3^1 5^1', 'drop 5'], ['live off 1']]
+    >>> read_event('prime 91')
+    raises InvalidText(line=0, field=1)
+    >>> read_log(['live cyclic 2^1 3^1'])
+    raises InvalidText(line=0, field=1)
+"""
+
+DESKS = """
+    >>> from forcedtables.desk import Desk
+    >>> desk = Desk()
+    >>> [desk.say(row) for row in ('live off 1', 'prime 2', 'prime 3', 'groups', 'clashes', 'fits split 20', 'bars drop 5', 'table', 'undo', 'count')]
+    ['ok', '- / -', '- / commute cyclic split', '2', '3:2', '-', 'absent', '2 1 - / 3 1 2', 'prime 3', '2^1']
+"""
+
 
 def told(line, names):
     """What the document prints below a line."""
@@ -299,6 +349,27 @@ class Examples(unittest.TestCase):
     def test_choices_and_rules_led_to_them(self):
         self.follow(COUNTS, CHOICES, ORDER_LOOKS, LEADING, LIKE)
 
+    def test_groups_as_objects(self):
+        self.follow(COUNTS, """
+            >>> MIXED = (("ring", 5), ("act", 3, 2, 2))
+        """, GROUPS)
+
+    def test_live_numbers(self):
+        self.follow(COUNTS, LIVES, EVENTS_BARRED)
+
+    def test_lines(self):
+        self.follow(COUNTS, """
+            >>> from forcedtables.lives import Live
+        """, LINES)
+
+    def test_a_desk(self):
+        self.follow(DESKS)
+
+    def test_the_whole_document_in_one_run(self):
+        self.follow(COUNTS, KINDS, CHECKERS, PARTS, CHANGES, TEXTS, COUNT_CLASSES, RULES, ORDERS, PLACING, ELEMENTS,
+                    PICTURES, FORCED, OTHERWISE, JUDGING, PAPERS, FORCED_CLASSES, CHOICES, ORDER_LOOKS, LEADING, LIKE,
+                    GROUPS, LIVES, EVENTS_BARRED, LINES, DESKS)
+
     def test_what_is_said_below_them(self):
         self.follow(RULES, ORDERS, """
             >>> [put_together(S3, B, A), 0 + 2 * 1, 1 + 0]
@@ -332,4 +403,10 @@ class Examples(unittest.TestCase):
             [2, 3, 2, 3, 2, 9, 9]
             >>> [81 % 7 == 2 * 2, 81 % 13, tuple(2 * number % 3 for number in (2, 1))]
             [True, 3, (1, 2)]
+        """)
+
+    def test_what_is_said_below_live_numbers(self):
+        self.follow("""
+            >>> [[(p - 1) % q == 0 for p, q in ((3, 2), (7, 3), (11, 5), (13, 3), (19, 3), (17, 3), (17, 5))]]
+            [[True, True, True, True, True, False, False]]
         """)

@@ -5,6 +5,7 @@ import importlib
 import inspect
 import unittest
 
+from forcedtables.lives import Live
 from forcedtables.rulechecker import is_rule
 from tests.choicesamples import is_free_rule, is_real_free
 from tests.samples import (EVERY_PRIME, FIFTEEN, FORTY, FOUR, MIXED, S3, SIX, THIRTY, all_of, any_values, faulty,
@@ -99,9 +100,65 @@ FUNCTIONS = [
     ("likepapers", "alike_paper", {"rule": S3, "other": (("ring", 6),)}, (tuple,)),
     ("likechecker", "lets_like", {"rule": S3, "thing": (SIX, CHOICE, A, B)}, (tuple,)),
     ("likechecker", "lets_alike", {"rule": S3, "other": S3, "thing": ((SIX, CHOICE, A, B),) * 2}, (bool,)),
+    ("stretches", "groups_between", {"low": 1, "high": 11}, (tuple,)),
+    ("stretches", "numbers_with", {"many": 2, "low": 1, "high": 11}, (tuple,)),
+    ("replaying", "is_log", {"thing": (("live", SIX, "off"),)}, (bool,)),
+]
+# Of what these are not handed in as stated, nothing is said, or they return objects: tried with what is stated alone.
+OTHERS = [
+    ("eventtexts", "event_line", {"event": ("prime", 2)}, (str,)),
+    ("eventtexts", "log_lines", {"log": (("live", SIX, "off"), ("drop", 2))}, (list,)),
+    ("eventreadings", "read_event", {"text": "prime 2"}, (tuple,)),
+    ("eventreadings", "read_log", {"lines": ["live off 1", "prime 2"]}, (tuple,)),
+    ("replaying", "replayed", {"log": (("live", SIX, "off"), ("drop", 2))}, (Live,)),
 ]
 # Stages 9 to 12 go through pairs of primes: their counts stay within the limits.
 WITHIN_LIMITS = ("forced", "otherwise", "forcedpapers", "forcedchecker")
+
+
+# What stands in which module, as the document lists it.
+INTERFACE = {
+    "errors": "GroupError, PaperError, CountError, LiveError, TextError, InvalidPaper, NotUsable, "
+              "InvalidEvent, NothingToUndo, InvalidText, InvalidRow",
+    "kinds": "is_integer, is_number, is_prime, is_count, is_choice, is_name, is_event",
+    "rulechecker": "is_piece, is_rule, lets_rule",
+    "countchecker": "lets_count",
+    "countparts": "value_of, primes_of, power_of, is_square_free, how_many_divisors, units_of, count_of",
+    "countchanges": "times, over, common, joined, does_divide, lifted, lowered, without_prime, square_free_of",
+    "counttexts": "count_text",
+    "ruletexts": "rule_text",
+    "countreadings": "count_read",
+    "rulereadings": "rule_read",
+    "countclasses": "Count, Free",
+    "rules": "is_element, one_of, put_together, product_of, back, to_the, commutes_with, turned_by, swap_of",
+    "orders": "order_of, order_of_rule, span_of, powers_of",
+    "placing": "element_at, number_of",
+    "elementclasses": "Element, Placed",
+    "walkers": "Walker",
+    "elementtexts": "element_text",
+    "elementreadings": "element_read",
+    "pictures": "table_of, picture, story",
+    "forced": "all_cyclic, all_commute, all_split, kinds_forced, acts_at, reasons_against, forced_between",
+    "otherwise": "piece_of_act, not_cyclic, not_commuting, not_split",
+    "judging": "is_cyclic, does_commute, does_split, shown_against",
+    "shownchecker": "lets_shown",
+    "forcedpapers": "forced_paper",
+    "forcedchecker": "lets_forced",
+    "forcedclasses": "Forced",
+    "choicechecker": "lets_choice",
+    "choices": "root_of, at_rest, how_many_groups, choices_of, group_of",
+    "orderlooks": "orders_in, many_of_order, central_in",
+    "leading": "choice_of, are_alike",
+    "likepapers": "like_paper, alike_paper",
+    "likechecker": "lets_like, lets_alike",
+    "stretches": "groups_between, numbers_with",
+    "groupclasses": "Group",
+    "lives": "Live, Flat",
+    "replaying": "is_log, replayed",
+    "eventtexts": "event_line, log_lines",
+    "eventreadings": "read_event, read_log",
+    "desk": "Desk",
+}
 
 
 def is_part_of_s3(thing):
@@ -123,6 +180,9 @@ STATED = {
     "parts": lambda thing: type(thing) is tuple and all(is_part_of_s3(part) for part in thing),
     "choice": lambda thing: written(thing) in (written(()), written(CHOICE)),
     "order": lambda thing: is_real(thing) and thing >= 1,
+    "many": lambda thing: is_real(thing) and thing >= 1,
+    "low": lambda thing: is_real(thing) and thing >= 1,
+    "high": lambda thing: is_real(thing) and 1 <= thing <= 201,
 }
 # What it has to be in one module.
 STATED_THERE = {
@@ -167,21 +227,38 @@ def is_plain(thing):
 
 class Interface(unittest.TestCase):
     def test_each_function_is_defined_in_its_module_with_its_parameters(self):
-        for module, name, args, _ in FUNCTIONS:
+        for module, name, args, _ in FUNCTIONS + OTHERS:
             found = function(module, name)
             self.assertTrue(inspect.isfunction(found))
             self.assertEqual(found.__module__, f"forcedtables.{module}")
             self.assertEqual(list(inspect.signature(found).parameters), list(args), name)
 
     def test_by_position_and_by_name(self):
-        for module, name, args, kinds in FUNCTIONS:
+        for module, name, args, kinds in FUNCTIONS + OTHERS:
             called = function(module, name)
             result = called(*args.values())
             self.assertIn(type(result), kinds, name)
-            self.assertTrue(is_plain(result), name)
+            self.assertTrue(is_plain(result) or type(result) is Live, name)
+            if type(result) is Live:
+                self.assertTrue(called(**args) == result)
+                continue
             by_place = outcome(called, *args.values())
             self.assertEqual(outcome(called, **args), by_place, name)
             self.assertEqual(outcome(called, **dict(reversed(args.items()))), by_place, name)
+
+    def test_every_name_of_the_interface_is_there(self):
+        for module, names in INTERFACE.items():
+            found = importlib.import_module(f"forcedtables.{module}")
+            for name in names.split(", "):
+                thing = vars(found)[name]
+                self.assertTrue(inspect.isfunction(thing) or inspect.isclass(thing), name)
+                self.assertEqual(thing.__module__, f"forcedtables.{module}", name)
+
+    def test_each_function_of_the_interface_is_tried_here(self):
+        tried = {(module, name) for module, name, _, _ in FUNCTIONS + OTHERS} | {("rules", "product_of")}
+        listed = {(module, name) for module, names in INTERFACE.items() for name in names.split(", ")
+                  if name[0].islower()}
+        self.assertEqual(tried, listed)
 
     def test_any_number_of_parts(self):
         found = function("rules", "product_of")
@@ -213,7 +290,8 @@ class AnyValues(unittest.TestCase):
         if stated is not None and name != "is_choice":
             if not stated(args[parameter]):
                 self.assertEqual(result, refused(parameter), (name, before))
-            elif len(args) == 1 or parameter in ("element", "times", "parts", "kind", "last", "choice", "order"):
+            elif len(args) == 1 or parameter in ("element", "times", "parts", "kind", "last", "choice", "order", "many",
+                                                  "high"):
                 self.assertIn(type(called(**args)), kinds, name)
 
     def test_the_first_parameter_that_is_not_as_stated_is_named(self):

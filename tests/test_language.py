@@ -26,8 +26,11 @@ setdefault split splitlines startswith strip update upper values zfill bit_lengt
 
 SPECIAL = set("""__init__ __eq__ __str__ __len__ __iter__ __call__ __contains__ __getitem__ __mul__ __floordiv__ __and__
 __or__ __iadd__""".split())
-# Where attributes are assigned: no operator and no property calls these, but for a sign that changes its object.
-CHANGING = {"__init__", "step", "undo"}
+# Where attributes are assigned, and the signs that may change their object.
+CHANGING = {"__init__", "step", "undo", "say", "_settle", "_begin_call"}
+CHANGING_SIGNS = {"__init__", "__iadd__", "__call__"}
+MODIFYING = {"append", "clear", "extend", "insert", "pop", "remove", "reverse", "setdefault", "update", "add", "discard",
+             "sort"}
 
 
 def trees():
@@ -158,7 +161,7 @@ class Language(unittest.TestCase):
                 self.assertFalse(kept & set(methods), f"L18 {path}")
 
     def test_methods_with_one_form(self):
-        forms = {"__iter__": ("iter(",), "__len__": ("len(",), "__str__": ("str(", "' '.join(", "'-'")}
+        forms = {"__iter__": ("iter(",), "__len__": ("len(",), "__str__": ("str(", "' '.join(", "' / '.join(", "'-'")}
         for path, tree in trees():
             for node in ast.walk(tree):
                 if isinstance(node, ast.FunctionDef) and node.name in forms:
@@ -170,13 +173,33 @@ class Language(unittest.TestCase):
                     if node.name == "__iter__":
                         self.assertEqual(len(node.body), 1, f"L5 {path}:{node.lineno}")
 
-    def test_what_changes_an_object_is_called_by_no_sign_but_one(self):
-        for path, tree in trees():
-            for node in ast.walk(tree):
-                if isinstance(node, ast.FunctionDef) and node.name != "__iadd__":
-                    called = {part.func.attr for part in ast.walk(node) if isinstance(part, ast.Call)
-                              and isinstance(part.func, ast.Attribute)}
-                    self.assertFalse(called & (CHANGING - {"__init__"}), f"L5 {path}:{node.lineno}")
+    def test_what_a_sign_or_a_property_runs_changes_nothing(self):
+        defined = {}
+        waiting = []
+        for _, tree in trees():
+            for node in [part for part in ast.walk(tree) if isinstance(part, ast.FunctionDef)]:
+                defined.setdefault(node.name, []).append(node)
+                marks = {getattr(one, "id", None) for one in node.decorator_list}
+                if (node.name.startswith("__") and node.name not in CHANGING_SIGNS) or "property" in marks:
+                    waiting.append(node)
+        seen = set()
+        while waiting:
+            node = waiting.pop()
+            if id(node) in seen:
+                continue
+            seen.add(id(node))
+            own = {target.id for part in ast.walk(node) if isinstance(part, ast.Assign) and isinstance(part.value, ast.List)
+                   for target in part.targets if isinstance(target, ast.Name)}
+            for part in ast.walk(node):
+                self.assertFalse(isinstance(part, (ast.Attribute, ast.Subscript)) and isinstance(part.ctx, ast.Store),
+                                 f"L5 {node.name}")
+                if not isinstance(part, ast.Call):
+                    continue
+                name = getattr(part.func, "id", None) or part.func.attr
+                if name in MODIFYING:
+                    self.assertIn(part.func.value.id, own, f"L5 {node.name}")
+                waiting += defined.get(name, [])
+        self.assertGreater(len(seen), 60)
 
     def test_nothing_is_changed_in_place(self):
         for path, tree in trees():
