@@ -4,6 +4,7 @@ from forcedtables.choicechecker import need_choice, need_free
 from forcedtables.countchecker import need_prime
 from forcedtables.countparts import primes_of
 from forcedtables.errors import NotUsable
+from forcedtables.kinds import does_reach
 from forcedtables.powering import raised, raised_modulo
 
 
@@ -43,11 +44,6 @@ def group_of(count, choice):
     many = multiplied([prime for prime, row in choice])
     factor = sum([turned_at(choice, at, other) * share_of(other, below) for at, other in enumerate(resting)])
     return (("act", below, many, factor % below),)
-
-
-def does_reach(prime, other):
-    """Tell whether the prime can act on the other one by a number that is not 0."""
-    return (other - 1) % prime == 0
 
 
 def roots_of(prime, other):

@@ -6,7 +6,7 @@ from forcedtables.countparts import count_of, has_prime, power_of, primes_of, va
 from forcedtables.countreadings import count_read
 from forcedtables.counttexts import count_text
 from forcedtables.errors import NotUsable
-from forcedtables.kinds import is_prime
+from forcedtables.kinds import does_reach, is_prime
 
 
 class Count:
@@ -112,7 +112,7 @@ class Free(Count):
     def acting_now(self):
         """The set of the pairs of two of the primes, the first of which divides the second one less 1."""
         primes = primes_of(self._pairs)
-        return tuple([(prime, other) for prime in primes for other in primes if (other - 1) % prime == 0])
+        return tuple([(prime, other) for prime in primes for other in primes if does_reach(prime, other)])
 
 
 def count_behind(thing):

@@ -1,7 +1,7 @@
 """Which values are integers, primes, counts, choices, names and events.
 
-Every function here takes any value. True and False are ints of Python, but no
-integers here, so each number is asked for its kind before it is compared.
+What is called thing here can be any value. True and False are ints of Python,
+but no integers here, so each number is asked for its kind before it is compared.
 """
 
 from forcedtables.errors import NotUsable
@@ -142,7 +142,12 @@ def row_fault(pair, resting, at):
 
 def can_act(thing, prime, other):
     """Tell whether any value is a number by which the prime can act on the other one."""
-    return is_below(thing, prime) and (thing == 0 or (other - 1) % prime == 0)
+    return is_below(thing, prime) and (thing == 0 or does_reach(prime, other))
+
+
+def does_reach(prime, other):
+    """Tell whether the prime can act on the other one by a number that is not 0."""
+    return (other - 1) % prime == 0
 
 
 def is_name(thing):

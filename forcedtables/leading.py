@@ -4,10 +4,10 @@ Each prime of such an order stands in one piece alone, and acts, if at all, by
 the turns of this piece on primes of the same piece.
 """
 
-from forcedtables.choices import does_reach, roots_of, share_of
+from forcedtables.choices import roots_of, share_of
 from forcedtables.countparts import count_of, primes_of
 from forcedtables.errors import NotUsable
-from forcedtables.kinds import is_free
+from forcedtables.kinds import does_reach, is_free
 from forcedtables.powering import raised_modulo
 from forcedtables.rulechecker import is_rule, lets_rule
 from forcedtables.rules import twist_of

@@ -7,7 +7,6 @@ from forcedtables.rules import closed, twist_of
 
 def like_paper(rule):
     """Return a paper on the choice to whose group the rule's is alike."""
-    need_free_rule("rule", rule)
     count, choice = choice_of(rule)
     acts = acts_in(count, rule)
     return (count, choice, resting_element(rule, acts), turning_element(rule, acts))
